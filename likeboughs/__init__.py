@@ -1,0 +1,1 @@
+"""Likeboughs: trees whose brothers are alike or not."""

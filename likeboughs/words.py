@@ -1,0 +1,15 @@
+"""The plainest things that all the others are made of: integers and names."""
+
+LONGEST_NAME = 8
+
+
+def is_between(thing, least, most):
+    """Whether an object is an integer within two bounds; a bool is none."""
+    return isinstance(thing, int) and not isinstance(thing, bool) and least <= thing <= most
+
+
+def is_name(thing):
+    """Whether an object is a string of one to eight letters from a to z."""
+    if not isinstance(thing, str) or not 1 <= len(thing) <= LONGEST_NAME:
+        return False
+    return all(["a" <= letter <= "z" for letter in thing])

@@ -1,0 +1,46 @@
+"""Signs, trees, books and odd objects that several tests use."""
+
+from likeboughs.books import Book
+from likeboughs.errors import BoughError, ParseError
+
+SIGNS = {'a': 0, 'b': 0, 'f': 2}
+ALL_SIGNS = {'a': 0, 's': 1, 'f': 2, 'g': 3}
+A, B = ('a',), ('b',)
+ANY_RULES = [('any', 'a', (), ()), ('any', 'b', (), ()), ('any', 'f', ('any', 'any'), ())]
+ODD_NAMES = ['', 'A', 'aB', 'abcdefghi', 'a1', '1', 'a b', ' a', 'a ', 'a\n', '\ta', 'a_b', '_', 'a-', '{', '`',
+             True, False, None, 0, 1, 7, (), ('a',), [], ['a'], {}, {'a': 0}]
+
+
+def example_book():
+    """The book of the document."""
+    return Book(SIGNS, ANY_RULES + [
+        ('twin', 'f', ('any', 'any'), ((0, 1, True),)),
+        ('full', 'a', (), ()),
+        ('full', 'f', ('full', 'full'), ((0, 1, True),)),
+    ])
+
+
+def nested(make, levels):
+    """An object of so many levels, made by wrapping it again and again."""
+    thing = 'a'
+    for _ in range(levels):
+        thing = make(thing)
+    return thing
+
+
+def odd_objects():
+    """Objects of all kinds that are no signs, trees, rules, lists of rules, names or numbers."""
+    return [
+        None, True, False, -1, 41, 2001, -10 ** 39, 10 ** 40 - 1,
+        '', 'A', 'f(a,a)', 'a\tb\nc', 'abcdefghi', 'a' * 5000, '{}',
+        (), (None,), ((),), ('nosuch',), (('a',),), ('a', ()), ('f', A), ('f', A, B, A), ('f', A, None), ('f', [A], A),
+        ('f', 'a', 'a'), ('f', 0, 1), (0,), (True, A, A), (['f'], A, A), ({'f': 2}, A, A), ((('f',),), A, A),
+        ['a'], ['f', A, A], [A], [None], [[]], [('any', 'a', ())], [('any', 'a', (), ()), None],
+        {}, {'A': 0}, {'a': 4}, {'a': -1}, {'a': True}, {'a': '0'}, {'a': None}, {1: 2}, {None: 0}, {True: 1},
+        {('a', None, (True, 2)): 0}, {nested(lambda thing: (thing,), 59): 'a'}, {'a': 0, 'f': [2]},
+        nested(lambda thing: (thing,), 60), nested(lambda thing: [thing], 60), nested(lambda thing: {'a': thing}, 60),
+        nested(lambda thing: ('f', A, thing), 60), nested(lambda thing: ('f', thing, None), 60),
+        list(range(5000)), tuple(range(5000)), {number: number for number in range(2500)}, [A] * 3000,
+        example_book(), Book({'f': 2}, []), [example_book()], (example_book(),), {'a': example_book()},
+        ('f', example_book(), A), BoughError('odd'), ParseError(3),
+    ]
