@@ -1,6 +1,6 @@
 """Rules, and the books that hold them."""
 
-from likeboughs.errors import InvalidKind, InvalidMatch, InvalidNames, InvalidRules
+from likeboughs.errors import InvalidBook, InvalidKind, InvalidMatch, InvalidNames, InvalidRules
 from likeboughs.trees import check_signs
 from likeboughs.words import is_between, is_name
 
@@ -46,6 +46,12 @@ def check_rules(signs, rules):
         raise InvalidRules("the rules are a list of at most two thousand")
     if not all([is_rule_of(signs, rule) for rule in rules]):
         raise InvalidRules("each rule is a tuple of a kind, a sign, kinds and asks that fit the signs")
+
+
+def check_kind(kind):
+    """Raise InvalidKind unless an object is a name, whether a book has it or not."""
+    if not is_name(kind):
+        raise InvalidKind("a kind is a name of one to eight letters from a to z")
 
 
 def are_new_names(kinds, names):
@@ -102,8 +108,7 @@ class Book:
 
     def rules_of(self, kind):
         """The ascending list of the indexes of the rules of a kind."""
-        if not is_name(kind):
-            raise InvalidKind("a kind is a name of one to eight letters from a to z")
+        check_kind(kind)
         return [index for index, rule in enumerate(self._rules) if rule[0] == kind]
 
     def renamed(self, names):
@@ -111,3 +116,9 @@ class Book:
         if not are_new_names(self.kinds, names):
             raise InvalidNames("new names are a dict from kinds of the book to names, all different")
         return Book(self._signs, [renamed_rule(names, rule) for rule in self._rules])
+
+
+def check_book(book):
+    """Raise InvalidBook unless an object is a book."""
+    if not isinstance(book, Book):
+        raise InvalidBook("a book is an object of the class Book")

@@ -45,11 +45,12 @@ def depth_of(tree):
     return deep
 
 
-def sized_parts(tree):
-    """The different parts of a tree as rows (size, part), brothers ahead of what they are beneath.
+def numbered_parts(tree):
+    """The different parts of a tree as rows (node, part), brothers ahead of what they are beneath.
 
-    Equal parts are found by their signs and the numbers of their brothers:
-    a tree itself may be too deep for the key of a dict.
+    A node is a tuple of the part's sign and of the numbers of its brothers'
+    rows. Equal parts are found by their nodes: a tree itself may be too deep
+    for the key of a dict.
     """
     places = places_of(tree)
     numbers = [0] * len(places)
@@ -61,10 +62,22 @@ def sized_parts(tree):
         part = places[at]
         end = first
         first = end - len(part) + 1
-        brothers = numbers[first:end]
-        key = (part[0], *brothers)
-        if key not in known:
-            known[key] = len(rows)
-            rows.append((1 + sum([rows[number][0] for number in brothers]), part))
-        numbers[at] = known[key]
+        node = (part[0], *numbers[first:end])
+        if node not in known:
+            known[node] = len(rows)
+            rows.append((node, part))
+        numbers[at] = known[node]
+    return rows
+
+
+def nodes_of(tree):
+    """The nodes of the different parts of a tree, the tree's own one last."""
+    return [row[0] for row in numbered_parts(tree)]
+
+
+def sized_parts(tree):
+    """The different parts of a tree as rows (size, part), brothers ahead of what they are beneath."""
+    rows = []
+    for (_, *brothers), part in numbered_parts(tree):
+        rows.append((1 + sum([rows[number][0] for number in brothers]), part))
     return rows

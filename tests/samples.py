@@ -20,12 +20,50 @@ def example_book():
     ])
 
 
+def short_book():
+    """The second book of the document."""
+    return Book(SIGNS, [
+        ('leaf', 'a', (), ()), ('leaf', 'b', (), ()), ('pair', 'f', ('leaf', 'leaf'), ((0, 1, False),)),
+    ])
+
+
+def asking_book():
+    """A book of all signs with asks of both sorts, also several in one rule."""
+    return Book(ALL_SIGNS, [
+        ('any', 'a', (), ()), ('any', 's', ('any',), ()), ('any', 'f', ('any', 'any'), ()),
+        ('any', 'g', ('any', 'any', 'any'), ()),
+        ('same', 'g', ('any', 'any', 'any'), ((0, 1, True), (1, 2, True))),
+        ('some', 'g', ('any', 'any', 'any'), ((0, 2, True), (1, 2, False))),
+        ('apart', 'g', ('any', 'any', 'any'), ((0, 1, False), (0, 2, False), (1, 2, False))),
+        ('twin', 'f', ('any', 'any'), ((0, 1, True),)), ('odd', 'f', ('any', 'any'), ((0, 1, False),)),
+        ('never', 'f', ('any', 'any'), ((0, 1, False), (0, 1, True))),
+        ('over', 's', ('twin',), ()), ('over', 's', ('same',), ()), ('beneath', 'f', ('twin', 'odd'), ()),
+        ('lost', 'f', ('nothing', 'any'), ()), ('deep', 's', ('deep',), ()),
+    ])
+
+
 def nested(make, levels):
     """An object of so many levels, made by wrapping it again and again."""
     thing = 'a'
     for _ in range(levels):
         thing = make(thing)
     return thing
+
+
+def grown(tree, make, laps):
+    """A tree that is put beneath another one again and again."""
+    for _ in range(laps):
+        tree = make(tree)
+    return tree
+
+
+def wide_tree(places, leaves=(A, B)):
+    """A tree of the sign f with about so many places, as flat as it can be, its leaves in turn."""
+    level = [leaves[at % len(leaves)] for at in range((places + 1) // 2)]
+    while len(level) > 1:
+        pairs = [('f', level[at], level[at + 1]) for at in range(0, len(level) - 1, 2)]
+        level = pairs + level[len(pairs) * 2:]
+    return level[0]
 
 
 def odd_objects():

@@ -25,6 +25,40 @@ STAGES = {
 >>> [book == Book(signs, book.rules), len(book | Book(signs, any_rules)), book.renamed({'twin': 'pair'}).kinds]
 [True, 6, ['any', 'full', 'pair']]
 """,
+    'Stage 3: readings': """
+>>> from likeboughs.readings import is_of, is_reading, lot_of, reading
+>>> four = ('f', ('f', a, a), ('f', a, a))
+>>> [lot_of(book, four), lot_of(book, ('f', a, b)), is_of(book, 'twin', ('f', b, b))]
+[('any', 'full', 'twin'), ('any',), True]
+>>> reading(book, 'full', four)
+(5, (5, (4,), (4,)), (5, (4,), (4,)))
+>>> [reading(book, 'full', ('f', a, b)), is_reading(book, 'any', ('f', a, a), (2, (0,), (4,)))]
+[None, False]
+""",
+    'Stage 4: steps': """
+>>> from likeboughs.steps import pattern_of, patterns, step
+>>> [patterns(2), len(patterns(3)), pattern_of(signs, [a, b, a])]
+[[(0, 0), (0, 1)], 5, (0, 1, 0)]
+>>> [step(book, 'f', (('any',), ('any',)), (0, 0)), step(book, 'f', (('any', 'full'), ('any', 'full')), (0, 1))]
+[('any', 'twin'), ('any',)]
+""",
+    'Stage 5: tables': """
+>>> from likeboughs.tables import counts, is_table, table
+>>> counts(book)
+{('any',): 4, ('any', 'full'): 1, ('any', 'full', 'twin'): 4, ('any', 'twin'): 4}
+>>> short = Book(signs, [('leaf', 'a', (), ()), ('leaf', 'b', (), ()), ('pair', 'f', ('leaf', 'leaf'), ((0, 1, False),))])
+>>> counts(short)
+{(): 4, ('leaf',): 2, ('pair',): 2}
+>>> [is_table(book, table(book)), is_table(short, table(short)[:-1])]
+[True, False]
+""",
+    'Stage 9: numbers of trees': """
+>>> from likeboughs.counting import count, listed, place_of, tree_at
+>>> [count(book, 'any', 9), count(book, 'twin', 7), count(book, 'full', 31), count(book, 'any', 39)]
+[448, 4, 1, 1853109766717440]
+>>> [listed(book, 'twin', 3), tree_at(book, 'any', 3, 1), place_of(book, 'any', ('f', b, a))]
+[[('f', ('a',), ('a',)), ('f', ('b',), ('b',))], ('f', ('a',), ('b',)), 2]
+""",
 }
 
 

@@ -7,15 +7,8 @@ from itertools import permutations
 from likeboughs import trees
 from likeboughs.errors import InvalidSigns, InvalidTree
 from likeboughs.trees import depth, is_less, is_signs, is_tree, parts, size, trees_of_size
+from tests.plain import plain_depth, plain_size
 from tests.samples import A, ALL_SIGNS, B, ODD_NAMES, SIGNS, nested, odd_objects
-
-
-def plain_size(tree):
-    return 1 + sum(plain_size(brother) for brother in tree[1:])
-
-
-def plain_depth(tree):
-    return 1 + max([plain_depth(brother) for brother in tree[1:]], default=0)
 
 
 def plain_parts(tree):

@@ -1,22 +1,11 @@
 """All trees of a size."""
 
 import unittest
-from itertools import product
 
 from likeboughs.errors import InvalidNumber, InvalidSigns, TooMany
 from likeboughs.trees import is_less, is_tree, size, trees_of_size
+from tests.plain import plain_trees
 from tests.samples import A, ALL_SIGNS, B, SIGNS, odd_objects
-
-
-def plain_trees(signs, most):
-    """All trees up to a size by size, found by trying all rows of smaller trees."""
-    found = {number: [] for number in range(1, most + 1)}
-    for number in range(1, most + 1):
-        for sign, brothers in signs.items():
-            for sizes in product(range(1, number), repeat=brothers):
-                if sum(sizes) == number - 1:
-                    found[number].extend((sign, *row) for row in product(*[found[part] for part in sizes]))
-    return {number: sorted(found[number]) for number in found}
 
 
 class TreesOfSizeTest(unittest.TestCase):
