@@ -1,6 +1,8 @@
 """How many trees of each size each lot has, and which these are."""
 
-from likeboughs.rounds import least_counts, steps_let
+from likeboughs.fields import least_counts
+from likeboughs.rounds import steps_let
+from likeboughs.rows import rows_apart
 from likeboughs.shapes import firsts_of
 
 
@@ -32,14 +34,6 @@ def splits(many, parts, places):
                     longer.append((ways * left, (*pairs, (lot, size)), rest - weight * size))
         rows = longer
     return [(ways, pairs) for ways, pairs, rest in rows if rest == 0]
-
-
-def rows_apart(pools):
-    """All rows of different trees, one out of each pool."""
-    rows = [()]
-    for pool in pools:
-        rows = [(*row, tree) for row in rows for tree in pool if tree not in row]
-    return rows
 
 
 class Census:

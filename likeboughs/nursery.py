@@ -1,59 +1,62 @@
-"""The smallest trees of each lot."""
+"""Trees of least sizes."""
 
 from heapq import heappop, heappush
 
+from likeboughs.groves import Grove
 from likeboughs.rounds import MOST_COUNTED, steps_let
 from likeboughs.shapes import firsts_of
 
 
 class Nursery:
-    """Trees that steps make, grown in the order of their sizes, at most so many of each lot."""
+    """Trees that steps make, grown in a grove in the order of their sizes, at most so many of each lot.
 
-    def __init__(self, steps, most):
-        self._steps = steps
+    held is a dict from lots to the lists of the numbers of their trees, the
+    smallest one first.
+    """
+
+    def __init__(self, grove, steps, most):
+        self.held = {}
+        self._grove = grove
         self._most = most
-        self._grown = []
-        self._places = []
-        self._held = {}
+        self._above = {}
         self._waiting = []
         self._queue = []
-
-    def grow(self):
-        """A dict from lots to lists of their smallest trees, the smallest one first."""
-        for sign, row, _, lot, _ in self._steps:
+        for sign, row, pattern, lot in steps:
+            for place in firsts_of(pattern):
+                self._above.setdefault(row[place], []).append((sign, row, pattern, place, lot))
             if row == ():
-                self._wait(sign, (), lot)
+                self._wait((sign,), lot)
+
+    def grow(self, wanted):
+        """Grow trees until one has a lot out of a list: its number, or None when there are no more to be grown."""
         while self._queue:
-            places, at = heappop(self._queue)
-            sign, brothers, lot = self._waiting[at]
+            _, at = heappop(self._queue)
+            node, lot = self._waiting[at]
             if not self._is_full(lot):
-                beneath = [self._grown[number] for number in brothers]
-                self._held.setdefault(lot, []).append(len(self._grown))
-                self._grown.append((sign, *beneath))
-                self._places.append(places)
-                self._wait_above(lot)
-        return {lot: [self._grown[number] for number in self._held[lot]] for lot in self._held}
+                newest = self._grove.plant(node)
+                self.held.setdefault(lot, []).append(newest)
+                if lot in wanted:
+                    return newest
+                self._wait_above(lot, newest)
+        return None
 
     def _is_full(self, lot):
-        return len(self._held.get(lot, [])) >= self._most
+        return len(self.held.get(lot, [])) >= self._most
 
-    def _wait(self, sign, brothers, lot):
-        places = 1 + sum([self._places[number] for number in brothers])
+    def _wait(self, node, lot):
+        places = 1 + sum([self._grove.sizes[number] for number in node[1:]])
         heappush(self._queue, (places, len(self._waiting)))
-        self._waiting.append((sign, brothers, lot))
+        self._waiting.append((node, lot))
 
-    def _wait_above(self, newest_lot):
+    def _wait_above(self, newest_lot, newest):
         """Let the trees wait in which the newest tree, of a lot, stands beneath the top."""
-        for sign, row, pattern, lot, _ in self._steps:
-            if newest_lot in row and not self._is_full(lot):
-                for place in firsts_of(pattern):
-                    if row[place] == newest_lot:
-                        for brothers in self._brothers(row, pattern, place):
-                            self._wait(sign, brothers, lot)
+        for sign, row, pattern, place, lot in self._above.get(newest_lot, []):
+            if not self._is_full(lot):
+                for brothers in self._brothers(row, pattern, place, newest):
+                    self._wait((sign, *brothers), lot)
 
-    def _brothers(self, row, pattern, place):
+    def _brothers(self, row, pattern, place, newest):
         """All rows of brothers with the newest tree at one place and with older ones elsewhere."""
-        newest = len(self._grown) - 1
         rows = [()]
         for at, first in enumerate(pattern):
             if first < at:
@@ -61,18 +64,39 @@ class Nursery:
             elif at == place:
                 rows = [(*taken, newest) for taken in rows]
             else:
-                older = [number for number in self._held.get(row[at], []) if number != newest]
+                older = [number for number in self.held.get(row[at], []) if number != newest]
                 rows = [(*taken, number) for taken in rows for number in older if number not in taken]
         return rows
 
 
-def smallest_trees(maker, known):
-    """A dict from lots to lists of four trees of least sizes, or of all trees if there are fewer.
+def most_needed(lots):
+    """How many trees of each lot may stand in the four smallest ones of a lot, where there are so many lots.
 
     In g(x, y, y) a small y is worth more than a small x. So the smallest trees
     of one lot may need the next ones beyond the smallest of another lot, which
     may need those beyond in a third lot: one more for each lot there is.
     """
-    nursery = Nursery(steps_let(maker, known), MOST_COUNTED + len(known))
-    found = nursery.grow()
-    return {lot: found[lot][:MOST_COUNTED] for lot in found}
+    return MOST_COUNTED + lots
+
+
+def smallest_in(grove, field, wanted):
+    """The number of a smallest tree that has a lot out of a list, or None if there is none."""
+    if wanted == []:
+        return None
+    return Nursery(grove, field.steps, most_needed(len(field.counts))).grow(wanted)
+
+
+def some_trees(grove, field):
+    """A dict from lots to the numbers of four small trees, or of all trees if there are fewer."""
+    nursery = Nursery(grove, field.steps, MOST_COUNTED)
+    nursery.grow([])
+    return nursery.held
+
+
+def smallest_trees(maker, known):
+    """A dict from lots to lists of four trees of least sizes, or of all trees if there are fewer."""
+    grove = Grove()
+    nursery = Nursery(grove, [row[:4] for row in steps_let(maker, known)], most_needed(len(known)))
+    nursery.grow([])
+    trees = grove.trees()
+    return {lot: [trees[number] for number in nursery.held[lot][:MOST_COUNTED]] for lot in nursery.held}

@@ -1,10 +1,10 @@
 """The kinds that a tree is of, and the rules by which it is."""
 
 from likeboughs.books import check_book, check_kind
-from likeboughs.makers import Maker, lots_of_nodes
+from likeboughs.groves import nodes_of
+from likeboughs.makers import lots_of_nodes, maker_of
 from likeboughs.shapes import asks_hold, pattern_in
 from likeboughs.trees import check_tree
-from likeboughs.walks import nodes_of
 from likeboughs.words import is_between
 
 
@@ -12,7 +12,7 @@ def lot_of(book, tree):
     """The ascending tuple of the kinds that a tree is of."""
     check_book(book)
     check_tree(book.signs, tree)
-    maker = Maker(book)
+    maker = maker_of(book)
     return maker.lot(lots_of_nodes(maker, nodes_of(tree))[-1])
 
 
@@ -28,7 +28,7 @@ def chosen_rules(book, nodes, wanted):
 
     They are told by a dict from (number of a node, kind) to the index of a rule.
     """
-    maker, rules = Maker(book), book.rules
+    maker, rules = maker_of(book), book.rules
     lots = lots_of_nodes(maker, nodes)
     waiting = [(len(nodes) - 1, wanted)]
     chosen = {}
@@ -37,7 +37,8 @@ def chosen_rules(book, nodes, wanted):
         if (number, kind) not in chosen:
             sign, *brothers = nodes[number]
             row = tuple([lots[brother] for brother in brothers])
-            index = maker.makers(sign, row, pattern_in(brothers))[kind]
+            makers = maker.makers(sign, row, pattern_in(brothers))
+            index = [at for at in makers if rules[at][0] == kind][0]
             chosen[(number, kind)] = index
             waiting.extend(list(zip(brothers, rules[index][2])))
     return chosen

@@ -1,19 +1,12 @@
-"""Counts: how many different trees have a lot, known up to four.
+"""Steps that counts let: how many different trees have a lot, known up to four.
 
 Lots are told by their numbers in a maker ([8] says why four is enough).
 """
 
-from likeboughs.shapes import all_patterns, firsts_of, is_fit
+from likeboughs.rows import rows_out_of
+from likeboughs.shapes import firsts_of, patterns_that_fit
 
 MOST_COUNTED = 4
-
-
-def rows_of(lots, many):
-    """All rows of so many lots."""
-    rows = [()]
-    for _ in range(many):
-        rows = [(*row, lot) for row in rows for lot in lots]
-    return rows
 
 
 def ways(known, row, pattern):
@@ -26,12 +19,15 @@ def ways(known, row, pattern):
     return number
 
 
+def patterns_let(known, row):
+    """The patterns of brothers with a row of lots that counts let."""
+    return [pattern for pattern in patterns_that_fit(row) if ways(known, row, pattern) > 0]
+
+
 def forms_let(known, brothers):
     """The rows of lots and the patterns of so many brothers that counts let, with the number of ways."""
-    shapes = all_patterns(brothers)
-    forms = [(row, pattern) for row in rows_of(list(known), brothers) for pattern in shapes if is_fit(row, pattern)]
-    told = [(row, pattern, ways(known, row, pattern)) for row, pattern in forms]
-    return [form for form in told if form[2] > 0]
+    rows = rows_out_of([list(known)] * brothers)
+    return [(row, pattern, ways(known, row, pattern)) for row in rows for pattern in patterns_let(known, row)]
 
 
 def steps_let(maker, known):
@@ -49,14 +45,3 @@ def made_by(steps):
     for _, _, _, lot, number in steps:
         made[lot] = made.get(lot, 0) + number
     return made
-
-
-def least_counts(maker):
-    """A dict from the lots of a book to their counts."""
-    known = {}
-    while True:
-        made = made_by(steps_let(maker, known))
-        counted = {lot: min(MOST_COUNTED, made[lot]) for lot in made}
-        if counted == known:
-            return known
-        known = counted

@@ -2,6 +2,19 @@
 
 from likeboughs.words import is_between
 
+# For each pattern the patterns in which no brothers are the same but those that are in it.
+FINER = {
+    (): ((),),
+    (0,): ((0,),),
+    (0, 0): ((0, 0), (0, 1)),
+    (0, 1): ((0, 1),),
+    (0, 0, 0): ((0, 0, 0), (0, 0, 2), (0, 1, 0), (0, 1, 1), (0, 1, 2)),
+    (0, 0, 2): ((0, 0, 2), (0, 1, 2)),
+    (0, 1, 0): ((0, 1, 0), (0, 1, 2)),
+    (0, 1, 1): ((0, 1, 1), (0, 1, 2)),
+    (0, 1, 2): ((0, 1, 2),),
+}
+
 
 def pattern_in(row):
     """For each place of a row the first place that holds the same."""
@@ -10,10 +23,12 @@ def pattern_in(row):
 
 def all_patterns(many):
     """The ascending list of all patterns of so many brothers."""
-    rows = [()]
-    for at in range(many):
-        rows = [(*row, first) for row in rows for first in range(at + 1) if first == at or row[first] == first]
-    return rows
+    return list(FINER[(0,) * many])
+
+
+def patterns_that_fit(row):
+    """The patterns of brothers with a row of lots: brothers that are the same have the same lot."""
+    return FINER[pattern_in(row)]
 
 
 def is_pattern(many, thing):

@@ -2,7 +2,7 @@
 
 from likeboughs.books import check_book
 from likeboughs.errors import InvalidLots, InvalidNumber, InvalidPattern, InvalidTrees, UnknownSign
-from likeboughs.makers import Maker
+from likeboughs.makers import maker_of
 from likeboughs.shapes import all_patterns, is_fit, is_pattern, pattern_in
 from likeboughs.trees import MOST_BROTHERS, check_signs
 from likeboughs.walks import is_grown
@@ -51,6 +51,6 @@ def step(book, sign, lots, pattern):
         raise InvalidLots("lots are a tuple of ascending tuples of kinds of the book, one for each brother")
     if not is_pattern(brothers[sign], pattern) or not is_fit(lots, pattern):
         raise InvalidPattern("a pattern has for each brother the first place with the same tree, so the same lot")
-    maker = Maker(book)
+    maker = maker_of(book)
     row = tuple([maker.number_of(lot) for lot in lots])
     return maker.lot(maker.step(sign, row, pattern))

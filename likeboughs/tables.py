@@ -1,16 +1,18 @@
 """Counts of lots, and tables of trees that show them."""
 
 from likeboughs.books import check_book
-from likeboughs.makers import Maker, lots_of_nodes
+from likeboughs.fields import least_counts
+from likeboughs.groves import nodes_of
+from likeboughs.makers import lots_of_nodes, maker_of
 from likeboughs.nursery import smallest_trees
-from likeboughs.rounds import MOST_COUNTED, least_counts, made_by, steps_let
-from likeboughs.walks import is_grown, nodes_of
+from likeboughs.rounds import MOST_COUNTED, made_by, steps_let
+from likeboughs.walks import is_grown
 
 
 def counts(book):
     """The dict from the lots of a book, ascending, to their counts."""
     check_book(book)
-    maker = Maker(book)
+    maker = maker_of(book)
     known = least_counts(maker)
     told = {maker.lot(number): known[number] for number in known}
     return {lot: told[lot] for lot in sorted(told)}
@@ -19,7 +21,7 @@ def counts(book):
 def table(book):
     """A table of a book: its lots, ascending, each with trees of least sizes."""
     check_book(book)
-    maker = Maker(book)
+    maker = maker_of(book)
     found = smallest_trees(maker, least_counts(maker))
     return sorted([(maker.lot(number), found[number]) for number in found])
 
@@ -60,7 +62,7 @@ def counts_shown(maker, thing):
 def is_table(book, thing):
     """Whether an object is a table of a book."""
     check_book(book)
-    maker = Maker(book)
+    maker = maker_of(book)
     known = counts_shown(maker, thing)
     if known is None:
         return False

@@ -1,8 +1,9 @@
 """Signs, the trees that are made of them, and the order of trees."""
 
 from likeboughs.errors import InvalidNumber, InvalidSigns, InvalidTree, TooMany
+from likeboughs.groves import Grove
 from likeboughs.growth import grown, row_counts
-from likeboughs.walks import depth_of, is_grown, places_of, sized_parts
+from likeboughs.walks import depth_of, is_grown, places_of
 from likeboughs.words import is_between, is_name
 
 MOST_SIGNS = 8
@@ -54,7 +55,9 @@ def parts(signs, tree):
     """The ascending list of the different trees that stand in a tree, itself, too."""
     check_signs(signs)
     check_tree(signs, tree)
-    return [row[1] for row in sorted(sized_parts(tree))]
+    grove = Grove()
+    grove.put(tree)
+    return [row[1] for row in sorted(list(zip(grove.sizes, grove.trees())))]
 
 
 def is_less(signs, one, other):

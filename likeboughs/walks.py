@@ -1,4 +1,4 @@
-"""Walks through trees of signs that were checked before.
+"""Walks through trees and frames of signs that were checked before.
 
 They keep lists of what is still to be seen instead of calling themselves:
 an object that is to be judged may be deeper than any tree.
@@ -24,15 +24,36 @@ def is_grown(signs, thing):
     return True
 
 
-def places_of(tree):
-    """The trees at all places of a tree, level by level, brothers side by side."""
-    places = [tree]
+def holes_in(signs, thing):
+    """In how many places of an object None stands where a tree would; None if there is no tree to be had so."""
+    waiting = [thing]
+    holes = 0
+    while waiting:
+        part = waiting.pop()
+        if part is None:
+            holes += 1
+        elif is_top(signs, part):
+            waiting.extend(part[1:])
+        else:
+            return None
+    return holes
+
+
+def places_of(thing):
+    """What stands at all places of a tree or a frame, level by level, brothers side by side."""
+    places = [thing]
     at = 0
     while at < len(places):
-        tree_there = places[at]
-        places.extend(tree_there[1:])
+        part = places[at]
+        if part is not None:
+            places.extend(part[1:])
         at += 1
     return places
+
+
+def places_of_signs(thing):
+    """The number of places of signs in a tree or a frame."""
+    return len([part for part in places_of(thing) if part is not None])
 
 
 def depth_of(tree):
@@ -43,41 +64,3 @@ def depth_of(tree):
         level = [brother for place in level for brother in place[1:]]
         deep += 1
     return deep
-
-
-def numbered_parts(tree):
-    """The different parts of a tree as rows (node, part), brothers ahead of what they are beneath.
-
-    A node is a tuple of the part's sign and of the numbers of its brothers'
-    rows. Equal parts are found by their nodes: a tree itself may be too deep
-    for the key of a dict.
-    """
-    places = places_of(tree)
-    numbers = [0] * len(places)
-    known = {}
-    rows = []
-    # Each place's brothers end where those of the next place begin.
-    first = len(places)
-    for at in reversed(range(len(places))):
-        part = places[at]
-        end = first
-        first = end - len(part) + 1
-        node = (part[0], *numbers[first:end])
-        if node not in known:
-            known[node] = len(rows)
-            rows.append((node, part))
-        numbers[at] = known[node]
-    return rows
-
-
-def nodes_of(tree):
-    """The nodes of the different parts of a tree, the tree's own one last."""
-    return [row[0] for row in numbered_parts(tree)]
-
-
-def sized_parts(tree):
-    """The different parts of a tree as rows (size, part), brothers ahead of what they are beneath."""
-    rows = []
-    for (_, *brothers), part in numbered_parts(tree):
-        rows.append((1 + sum([rows[number][0] for number in brothers]), part))
-    return rows

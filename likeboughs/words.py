@@ -1,6 +1,7 @@
 """The plainest things that all the others are made of: integers and names."""
 
 LONGEST_NAME = 8
+LETTERS = "abcdefghijklmnopqrstuvwxyz"
 
 
 def is_between(thing, least, most):
@@ -13,3 +14,13 @@ def is_name(thing):
     if not isinstance(thing, str) or not 1 <= len(thing) <= LONGEST_NAME:
         return False
     return all(["a" <= letter <= "z" for letter in thing])
+
+
+def name_at(number):
+    """A name of its own for each number from 0 on."""
+    name = LETTERS[number % len(LETTERS)]
+    left = number // len(LETTERS)
+    while left > 0:
+        name = LETTERS[left % len(LETTERS)] + name
+        left = left // len(LETTERS)
+    return name

@@ -119,3 +119,43 @@ def random_books(seed, many, least_lots=3):
         if held is not None and len(held) >= min(least_lots, 1 + sum(signs.values())):
             found.append((book, held))
     return found
+
+
+def plain_order(trees):
+    """Trees in the order of trees: by size, then as tuples."""
+    return sorted(trees, key=lambda tree: (plain_size(tree), tree))
+
+
+def plain_of(book, trees):
+    """A dict from kinds, and a name that is none of the book, to the lists of those trees that are of the kind."""
+    known = {}
+    lots = [(tree, plain_lot(book, tree, known)) for tree in trees]
+    return {kind: [tree for tree, lot in lots if kind in lot] for kind in book.kinds + ['none']}
+
+
+def plain_filled(frame, tree):
+    return tree if frame is None else (frame[0], *[plain_filled(brother, tree) for brother in frame[1:]])
+
+
+def plain_places(frame):
+    """The number of places of signs in a tree or a frame."""
+    return 0 if frame is None else 1 + sum(plain_places(brother) for brother in frame[1:])
+
+
+def plain_surroundings(signs, trees, levels):
+    """All surroundings of at most so many levels in which the other brothers are out of a list of trees."""
+    found = [None]
+    last = [None]
+    for _ in range(levels):
+        last = [
+            (sign, *row[:place], frame, *row[place:]) for frame in last for sign, brothers in signs.items()
+            for place in range(brothers) for row in product(trees, repeat=brothers - 1)
+        ]
+        found.extend(last)
+    return found
+
+
+def plain_parts(book, kind, one, other, frame, known=None):
+    """Whether just one of two trees, put into a frame, is of a kind."""
+    known = {} if known is None else known
+    return len({kind in plain_lot(book, plain_filled(frame, tree), known) for tree in [one, other]}) == 2

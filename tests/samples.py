@@ -82,3 +82,20 @@ def odd_objects():
         example_book(), Book({'f': 2}, []), [example_book()], (example_book(),), {'a': example_book()},
         ('f', example_book(), A), BoughError('odd'), ParseError(3),
     ]
+
+
+def part_book(signs, trees):
+    """A book whose kind "kind" has the trees of a list, and in which each part of one is the only tree of a kind."""
+    names, rules = {}, []
+    for tree in trees:
+        rules.append(('kind', tree[0], tuple(part_name(brother, names, rules) for brother in tree[1:]), ()))
+    return Book(signs, list(dict.fromkeys(rules)))
+
+
+def part_name(part, names, rules):
+    if part not in names:
+        below = tuple(part_name(brother, names, rules) for brother in part[1:])
+        number = len(names)
+        names[part] = 'p' + ''.join('abcdefghij'[int(figure)] for figure in str(number))
+        rules.append((names[part], part[0], below, ()))
+    return names[part]

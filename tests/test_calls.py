@@ -5,56 +5,16 @@ import inspect
 import unittest
 from itertools import permutations, product
 
-from likeboughs import counting, readings, steps, tables
 from likeboughs.books import Book
-from likeboughs.counting import count, listed, place_of, tree_at
-from likeboughs.errors import (
-    InvalidBook, InvalidKind, InvalidLots, InvalidNumber, InvalidPattern, InvalidSigns, InvalidTree, InvalidTrees,
-    UnknownSign,
-)
-from likeboughs.readings import is_of, is_reading, lot_of, reading
-from likeboughs.steps import pattern_of, patterns, step
+from likeboughs.counting import count, listed
+from likeboughs.finite import all_trees, is_ring, ring
+from likeboughs.made import least_size
+from likeboughs.readings import is_reading, lot_of
+from likeboughs.steps import patterns
+from likeboughs.surroundings import are_kin, is_frame, is_parter
 from likeboughs.tables import counts, is_table, table
-from tests.samples import A, B, ODD_NAMES, SIGNS, asking_book, example_book, odd_objects, short_book
-
-FAA = ('f', A, A)
-SHORT_TABLE = table(short_book())
-ODD_BOOKS = [thing for thing in odd_objects() if not isinstance(thing, Book)] + [
-    Book, SIGNS, [('any', 'a', (), ())], (SIGNS, []), 'book',
-]
-ODD_KINDS = ODD_NAMES + odd_objects()
-ODD_TREES = odd_objects() + ['a', ('s', A), ('f', A), ['a'], ('f', A, ['a']), ('a', A)]
-ODD_NUMBERS = odd_objects() + [0, 4.0, '1', (1,)]
-ODD_SIGNS = odd_objects()
-# Each call with arguments that it takes, and the errors in the order in which the document lists them.
-CALLS = [
-    (lot_of, {'book': example_book(), 'tree': FAA}, [('book', InvalidBook, ODD_BOOKS), ('tree', InvalidTree, ODD_TREES)]),
-    (is_of, {'book': example_book(), 'kind': 'twin', 'tree': FAA}, [
-        ('book', InvalidBook, ODD_BOOKS), ('kind', InvalidKind, ODD_KINDS), ('tree', InvalidTree, ODD_TREES)]),
-    (reading, {'book': example_book(), 'kind': 'twin', 'tree': FAA}, [
-        ('book', InvalidBook, ODD_BOOKS), ('kind', InvalidKind, ODD_KINDS), ('tree', InvalidTree, ODD_TREES)]),
-    (is_reading, {'book': example_book(), 'kind': 'twin', 'tree': FAA, 'thing': (3, (0,), (0,))}, [
-        ('book', InvalidBook, ODD_BOOKS), ('kind', InvalidKind, ODD_KINDS), ('tree', InvalidTree, ODD_TREES)]),
-    (patterns, {'many': 3}, [('many', InvalidNumber, [4, -1] + odd_objects())]),
-    (pattern_of, {'signs': SIGNS, 'trees': [A, B, A]}, [
-        ('signs', InvalidSigns, ODD_SIGNS), ('trees', InvalidTrees, [[A] * 4, (A,), A, None, [None], [A, 'a'], {}])]),
-    (step, {'book': example_book(), 'sign': 'f', 'lots': (('any',), ('any',)), 'pattern': (0, 1)}, [
-        ('book', InvalidBook, ODD_BOOKS), ('sign', UnknownSign, ODD_NAMES + odd_objects() + ['c']),
-        ('lots', InvalidLots, odd_objects() + [(('any',),), (('none',), ('any',)), (('any',), ['any'])]),
-        ('pattern', InvalidPattern, odd_objects() + [(0,), (1, 1), (0, True), [0, 1]])]),
-    (counts, {'book': example_book()}, [('book', InvalidBook, ODD_BOOKS)]),
-    (table, {'book': example_book()}, [('book', InvalidBook, ODD_BOOKS)]),
-    (is_table, {'book': short_book(), 'thing': SHORT_TABLE}, [('book', InvalidBook, ODD_BOOKS)]),
-    (count, {'book': example_book(), 'kind': 'any', 'size': 5}, [
-        ('book', InvalidBook, ODD_BOOKS), ('kind', InvalidKind, ODD_KINDS), ('size', InvalidNumber, ODD_NUMBERS)]),
-    (listed, {'book': example_book(), 'kind': 'any', 'size': 5}, [
-        ('book', InvalidBook, ODD_BOOKS), ('kind', InvalidKind, ODD_KINDS), ('size', InvalidNumber, ODD_NUMBERS)]),
-    (tree_at, {'book': example_book(), 'kind': 'any', 'size': 5, 'index': 1}, [
-        ('book', InvalidBook, ODD_BOOKS), ('kind', InvalidKind, ODD_KINDS), ('size', InvalidNumber, ODD_NUMBERS),
-        ('index', InvalidNumber, odd_objects() + [16])]),
-    (place_of, {'book': example_book(), 'kind': 'any', 'tree': FAA}, [
-        ('book', InvalidBook, ODD_BOOKS), ('kind', InvalidKind, ODD_KINDS), ('tree', InvalidTree, ODD_TREES)]),
-]
+from tests.calls import CALLS, FILES, SHORT_TABLE
+from tests.samples import A, B, SIGNS, asking_book, example_book, odd_objects, short_book
 
 
 class ErrorsTest(unittest.TestCase):
@@ -83,12 +43,15 @@ class ErrorsTest(unittest.TestCase):
             if thing != (0,):
                 self.assertIs(is_reading(example_book(), 'any', A, thing), False)
             self.assertIs(is_table(example_book(), thing), False)
+            self.assertIs(is_ring(example_book(), 'any', thing), False)
+            self.assertIs(is_frame(SIGNS, thing), thing is None or thing == ('f', A, None))
+            self.assertIs(is_parter(example_book(), 'any', A, B, thing), False)
 
     def test_failing_calls_change_nothing(self):
         book = example_book()
         for call, taken, errors in CALLS:
             for name, error, things in errors:
-                if 'book' in taken and name != 'book':
+                if isinstance(taken.get('book'), Book) and taken['book'] == book and name != 'book':
                     with self.assertRaises(error):
                         call(**{**taken, 'book': book, name: things[0]})
         self.assertEqual(book, example_book())
@@ -109,26 +72,25 @@ class ParametersTest(unittest.TestCase):
 
     def test_answers(self):
         told = {call.__name__: call(**taken) for call, taken, _ in CALLS}
-        told_table = told.pop('table')
+        told_table, told_ring = told.pop('table'), told.pop('ring')
         self.assertIs(is_table(example_book(), told_table), True)
+        self.assertIs(is_ring(example_book(), 'full', told_ring), True)
         self.assertEqual(told, {
             'lot_of': ('any', 'full', 'twin'), 'is_of': True, 'reading': (3, (0,), (0,)), 'is_reading': True,
             'patterns': [(0, 0, 0), (0, 0, 2), (0, 1, 0), (0, 1, 1), (0, 1, 2)], 'pattern_of': (0, 1, 0), 'step': ('any',),
             'counts': {('any',): 4, ('any', 'full'): 1, ('any', 'full', 'twin'): 4, ('any', 'twin'): 4}, 'is_table': True,
             'count': 16, 'listed': told['listed'], 'tree_at': ('f', A, ('f', A, B)), 'place_of': 0,
+            'is_made': True, 'least_size': 3, 'least': A, 'is_finite': True, 'all_trees': [('f', A, B), ('f', B, A)],
+            'is_ring': True, 'is_frame': True, 'filled': ('f', B, A), 'parter': (None,), 'is_parter': True, 'are_kin': True,
         })
         self.assertEqual([len(told['listed']), told['listed'][1]], [16, told['tree_at']])
 
     def test_functions_stand_in_their_files(self):
-        files = {
-            readings: [lot_of, is_of, reading, is_reading], steps: [patterns, pattern_of, step],
-            tables: [counts, table, is_table], counting: [count, listed, tree_at, place_of],
-        }
-        for module, functions in files.items():
+        for module, functions in FILES.items():
             for function in functions:
                 self.assertTrue(inspect.isfunction(function))
                 self.assertEqual(function.__module__, module.__name__)
-        self.assertEqual(sum(len(functions) for functions in files.values()), len(CALLS))
+        self.assertEqual([call for functions in FILES.values() for call in functions], [call for call, _, _ in CALLS])
 
 
 class AnswersTest(unittest.TestCase):
@@ -148,6 +110,9 @@ class AnswersTest(unittest.TestCase):
         held = copy.deepcopy(wrong)
         is_table(short_book(), wrong)
         is_reading(short_book(), 'leaf', A, wrong)
+        is_ring(short_book(), 'leaf', wrong)
+        is_parter(short_book(), 'leaf', A, B, wrong)
+        is_frame(SIGNS, wrong)
         self.assertEqual(wrong, held)
 
     def test_the_same_question_again(self):
@@ -157,8 +122,13 @@ class AnswersTest(unittest.TestCase):
             for other in books:
                 counts(other)
                 listed(other, 'any', 3)
+                ring(other, 'any')
+                are_kin(other, 'twin', A, B) if other.signs == SIGNS else None
             self.assertEqual(counts(book), counts(copy.deepcopy(book)))
             self.assertEqual(table(book), table(copy.deepcopy(book)))
+            for kind in book.kinds:
+                self.assertEqual(ring(book, kind), ring(copy.deepcopy(book), kind))
+                self.assertEqual(least_size(book, kind), least_size(copy.deepcopy(book), kind))
         for _ in range(2):
             self.assertEqual([call(**taken) for call, taken, _ in CALLS], wanted)
             self.assertEqual([call(**taken) for call, taken, _ in reversed(CALLS)], wanted[::-1])
@@ -169,12 +139,16 @@ class AnswersTest(unittest.TestCase):
             self.assertEqual([count(book, 'k', 1) for book in books], [1, 1, 0, 1])
             self.assertEqual([listed(book, 'k', 1) for book in books], [[A], [B], [], [A]])
             self.assertEqual([lot_of(book, A) for book in books], [('k',), (), (), ('k',)])
+            self.assertEqual([all_trees(book, 'k') for book in books], [[A], [B], [], [A]])
+            self.assertEqual([least_size(book, 'k') for book in books], [1, 1, None, 1])
+            self.assertEqual([are_kin(book, 'k', A, B) for book in books[:3]], [False, False, True])
             self.assertEqual([counts(book) for book in books],
                              [{(): 4, ('k',): 1}, {(): 4, ('k',): 1}, {(): 4}, {('k',): 1}])
 
     def test_lists_and_dicts_are_new(self):
         book = example_book()
-        for call in [lambda: patterns(3), lambda: counts(book), lambda: table(book), lambda: listed(book, 'any', 3)]:
+        calls = [lambda: patterns(3), lambda: counts(book), lambda: table(book), lambda: listed(book, 'any', 3)]
+        for call in calls + [lambda: all_trees(short_book(), 'pair')]:
             told = call()
             wanted = copy.deepcopy(told)
             self.assertIsNot(call(), told)
@@ -189,9 +163,9 @@ class AnswersTest(unittest.TestCase):
         self.assertEqual(book, example_book())
 
     def test_answers_of_the_kinds_told(self):
-        bools = ['is_of', 'is_reading', 'is_table']
-        tuples = ['lot_of', 'reading', 'pattern_of', 'step', 'tree_at']
-        lists, numbers = ['patterns', 'table', 'listed'], ['count', 'place_of']
+        bools = ['is_of', 'is_reading', 'is_table', 'is_made', 'is_finite', 'is_ring', 'is_frame', 'is_parter', 'are_kin']
+        tuples = ['lot_of', 'reading', 'pattern_of', 'step', 'tree_at', 'least', 'ring', 'filled', 'parter']
+        lists, numbers = ['patterns', 'table', 'listed', 'all_trees'], ['count', 'place_of', 'least_size']
         wanted = {**dict.fromkeys(bools, bool), **dict.fromkeys(tuples, tuple), **dict.fromkeys(lists, list),
                   **dict.fromkeys(numbers, int), 'counts': dict}
         self.assertEqual({call.__name__: type(call(**taken)) for call, taken, _ in CALLS}, wanted)

@@ -52,12 +52,36 @@ STAGES = {
 >>> [is_table(book, table(book)), is_table(short, table(short)[:-1])]
 [True, False]
 """,
+    'Stage 6: kinds that are made': """
+>>> from likeboughs.made import is_made, least, least_size
+>>> [least_size(book, 'twin'), least(book, 'full'), is_made(book, 'none')]
+[3, ('a',), False]
+>>> thin = Book(signs, [('leaf', 'a', (), ()), ('odd', 'f', ('leaf', 'leaf'), ((0, 1, False),))])
+>>> [is_made(thin, 'odd'), least(thin, 'odd')]
+[False, None]
+""",
+    'Stage 7: kinds without end': """
+>>> from likeboughs.finite import all_trees, is_finite, is_ring, ring
+>>> [is_finite(book, 'full'), is_finite(short, 'pair'), all_trees(short, 'pair')]
+[False, True, [('f', ('a',), ('b',)), ('f', ('b',), ('a',))]]
+>>> [is_ring(book, 'full', (four, ('f', None, None), None)), is_ring(book, 'full', (four, ('f', None, a), None)), ring(short, 'pair')]
+[True, False, None]
+""",
     'Stage 9: numbers of trees': """
 >>> from likeboughs.counting import count, listed, place_of, tree_at
 >>> [count(book, 'any', 9), count(book, 'twin', 7), count(book, 'full', 31), count(book, 'any', 39)]
 [448, 4, 1, 1853109766717440]
 >>> [listed(book, 'twin', 3), tree_at(book, 'any', 3, 1), place_of(book, 'any', ('f', b, a))]
 [[('f', ('a',), ('a',)), ('f', ('b',), ('b',))], ('f', ('a',), ('b',)), 2]
+""",
+    'Stage 14: surroundings': """
+>>> from likeboughs.surroundings import are_kin, filled, is_frame, is_parter, parter
+>>> [filled(signs, ('f', None, ('f', None, b)), a), is_frame(signs, ('f', a, b))]
+[('f', ('a',), ('f', ('a',), ('b',))), False]
+>>> [is_parter(book, 'twin', a, b, ('f', None, a)), is_parter(book, 'twin', a, b, parter(book, 'twin', a, b)[0]), are_kin(book, 'any', a, b)]
+[True, True, True]
+>>> [are_kin(short, 'pair', a, b), are_kin(short, 'pair', ('f', a, a), four), is_parter(short, 'leaf', a, four, None), are_kin(short, 'leaf', a, four)]
+[False, True, True, False]
 """,
 }
 

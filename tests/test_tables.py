@@ -3,10 +3,10 @@
 import unittest
 
 from likeboughs.books import Book
-from likeboughs.makers import Maker
+from likeboughs.fields import least_counts
+from likeboughs.makers import maker_of
 from likeboughs.nursery import smallest_trees
 from likeboughs.readings import lot_of
-from likeboughs.rounds import least_counts
 from likeboughs.tables import counts, is_table, table
 from tests.plain import is_closed, plain_counts, plain_lot, plain_size, plain_trees, random_books
 from tests.samples import A, ALL_SIGNS, ANY_RULES, B, SIGNS, asking_book, example_book, grown, short_book
@@ -159,7 +159,7 @@ class TableTest(unittest.TestCase):
             ('p', 'a', (), ()), ('c', 'b', (), ()), ('r', 'g', ('p', 'p', 'p'), ()), ('c', 'u', ('r',), ()),
             ('r', 'v', ('r',), ()), ('t', 'g', ('c', 'c', 'c'), ((0, 1, False), (1, 2, True))),
         ])
-        maker = Maker(book)
+        maker = maker_of(book)
         found = smallest_trees(maker, least_counts(maker))
         sizes = {maker.lot(lot): [plain_size(tree) for tree in found[lot]] for lot in found}
         self.assertEqual([sizes[('c',)], sizes[('t',)]], [[1, 5, 6, 7], [8, 9, 10, 11]])
