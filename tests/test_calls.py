@@ -9,12 +9,13 @@ from likeboughs.books import Book
 from likeboughs.counting import count, listed
 from likeboughs.finite import all_trees, is_ring, ring
 from likeboughs.made import least_size
-from likeboughs.readings import is_reading, lot_of
+from likeboughs.needless import needless_asks, needless_rules
+from likeboughs.readings import is_of, is_reading, lot_of
 from likeboughs.steps import patterns
 from likeboughs.surroundings import are_kin, is_frame, is_parter
 from likeboughs.tables import counts, is_table, table
-from tests.calls import CALLS, FILES, SHORT_TABLE
-from tests.samples import A, B, SIGNS, asking_book, example_book, odd_objects, short_book
+from tests.calls import CALLS, FAA, FILES, SHORT_TABLE
+from tests.samples import A, ANY_RULES, B, SIGNS, asking_book, example_book, odd_objects, short_book
 
 
 class ErrorsTest(unittest.TestCase):
@@ -75,12 +76,21 @@ class ParametersTest(unittest.TestCase):
         told_table, told_ring = told.pop('table'), told.pop('ring')
         self.assertIs(is_table(example_book(), told_table), True)
         self.assertIs(is_ring(example_book(), 'full', told_ring), True)
+        self.assertIn(told['parting'], [A, B])
+        trees = [A, B, FAA, ('f', A, B), ('f', FAA, FAA)]
+        for name, wanted in [('joined', [0, 1, 2, 3, 4]), ('common', [3]), ('without', [0, 1, 2, 4]), ('opposite', [0, 1, 3]),
+                             ('cut', [0, 1, 2, 3]), ('of_trees', [0, 2])]:
+            book, kind = told.pop(name)
+            self.assertEqual([at for at, tree in enumerate(trees) if is_of(book, kind, tree)], wanted)
         self.assertEqual(told, {
             'lot_of': ('any', 'full', 'twin'), 'is_of': True, 'reading': (3, (0,), (0,)), 'is_reading': True,
             'patterns': [(0, 0, 0), (0, 0, 2), (0, 1, 0), (0, 1, 1), (0, 1, 2)], 'pattern_of': (0, 1, 0), 'step': ('any',),
             'counts': {('any',): 4, ('any', 'full'): 1, ('any', 'full', 'twin'): 4, ('any', 'twin'): 4}, 'is_table': True,
             'count': 16, 'listed': told['listed'], 'tree_at': ('f', A, ('f', A, B)), 'place_of': 0,
             'is_made': True, 'least_size': 3, 'least': A, 'is_finite': True, 'all_trees': [('f', A, B), ('f', B, A)],
+            'holds': True, 'are_alike': False, 'needless_rules': [0, 1, 2, 3], 'needless_asks': [(3, 0)],
+            'without_rule': Book(SIGNS, example_book().rules[1:]), 'parting': told['parting'],
+            'without_ask': Book(SIGNS, ANY_RULES + [('twin', 'f', ('any', 'any'), ())] + example_book().rules[4:]),
             'is_ring': True, 'is_frame': True, 'filled': ('f', B, A), 'parter': (None,), 'is_parter': True, 'are_kin': True,
         })
         self.assertEqual([len(told['listed']), told['listed'][1]], [16, told['tree_at']])
@@ -148,7 +158,8 @@ class AnswersTest(unittest.TestCase):
     def test_lists_and_dicts_are_new(self):
         book = example_book()
         calls = [lambda: patterns(3), lambda: counts(book), lambda: table(book), lambda: listed(book, 'any', 3)]
-        for call in calls + [lambda: all_trees(short_book(), 'pair')]:
+        calls += [lambda: all_trees(short_book(), 'pair'), lambda: needless_rules(book, 'full'), lambda: needless_asks(book, 'full')]
+        for call in calls + [lambda: needless_rules(book, 'any')]:
             told = call()
             wanted = copy.deepcopy(told)
             self.assertIsNot(call(), told)
@@ -163,11 +174,14 @@ class AnswersTest(unittest.TestCase):
         self.assertEqual(book, example_book())
 
     def test_answers_of_the_kinds_told(self):
-        bools = ['is_of', 'is_reading', 'is_table', 'is_made', 'is_finite', 'is_ring', 'is_frame', 'is_parter', 'are_kin']
-        tuples = ['lot_of', 'reading', 'pattern_of', 'step', 'tree_at', 'least', 'ring', 'filled', 'parter']
-        lists, numbers = ['patterns', 'table', 'listed', 'all_trees'], ['count', 'place_of', 'least_size']
+        bools = ['is_of', 'is_reading', 'is_table', 'is_made', 'is_finite', 'is_ring', 'is_frame', 'is_parter', 'are_kin',
+                 'holds', 'are_alike']
+        tuples = ['lot_of', 'reading', 'pattern_of', 'step', 'tree_at', 'least', 'ring', 'filled', 'parter',
+                  'parting', 'joined', 'common', 'without', 'opposite', 'cut', 'of_trees']
+        lists = ['patterns', 'table', 'listed', 'all_trees', 'needless_rules', 'needless_asks']
+        numbers = ['count', 'place_of', 'least_size']
         wanted = {**dict.fromkeys(bools, bool), **dict.fromkeys(tuples, tuple), **dict.fromkeys(lists, list),
-                  **dict.fromkeys(numbers, int), 'counts': dict}
+                  **dict.fromkeys(numbers, int), 'counts': dict, 'without_rule': Book, 'without_ask': Book}
         self.assertEqual({call.__name__: type(call(**taken)) for call, taken, _ in CALLS}, wanted)
         for lot, trees in table(example_book()):
             self.assertEqual([type(lot), type(trees)], [tuple, list])

@@ -67,12 +67,49 @@ STAGES = {
 >>> [is_ring(book, 'full', (four, ('f', None, None), None)), is_ring(book, 'full', (four, ('f', None, a), None)), ring(short, 'pair')]
 [True, False, None]
 """,
+    'Stage 8: kinds beside kinds': """
+>>> from likeboughs.beside import are_alike, holds, parting
+>>> [holds(book, 'any', book, 'twin'), holds(book, 'twin', book, 'full'), parting(book, 'twin', book, 'full')]
+[True, False, ('a',)]
+>>> same = Book(signs, any_rules + [('twin', 'f', ('any', 'any'), ((0, 1, True),))])
+>>> [are_alike(book, 'twin', same, 'twin'), parting(book, 'twin', same, 'twin')]
+[True, None]
+""",
     'Stage 9: numbers of trees': """
 >>> from likeboughs.counting import count, listed, place_of, tree_at
 >>> [count(book, 'any', 9), count(book, 'twin', 7), count(book, 'full', 31), count(book, 'any', 39)]
 [448, 4, 1, 1853109766717440]
 >>> [listed(book, 'twin', 3), tree_at(book, 'any', 3, 1), place_of(book, 'any', ('f', b, a))]
 [[('f', ('a',), ('a',)), ('f', ('b',), ('b',))], ('f', ('a',), ('b',)), 2]
+""",
+    'Stage 10: kinds joined': """
+>>> from likeboughs.joined import common, joined, opposite, without
+>>> untwin, kind = opposite(book, 'twin')
+>>> [is_of(untwin, kind, ('f', a, b)), is_of(untwin, kind, ('f', b, b))]
+[True, False]
+>>> both, shared = common(book, 'twin', book, 'full')
+>>> some, mixed = joined(short, 'pair', short, 'leaf')
+>>> [is_of(both, shared, four), is_of(both, shared, a), is_of(some, mixed, b), is_of(some, mixed, ('f', a, a))]
+[True, False, True, False]
+>>> less, rest = without(book, 'any', book, 'twin')
+>>> [is_of(less, rest, b), is_of(less, rest, four)]
+[True, False]
+""",
+    'Stage 11: kinds cut': """
+>>> from likeboughs.cuts import cut, of_trees
+>>> low, few = cut(book, 'twin', 5)
+>>> [is_of(low, few, ('f', b, b)), is_of(low, few, four), is_of(low, few, b)]
+[True, False, False]
+>>> told, listed_kind = of_trees(signs, [b, ('f', a, b), b])
+>>> [is_of(told, listed_kind, tree) for tree in [b, ('f', a, b), a, ('f', b, a)]]
+[True, True, False, False]
+""",
+    'Stage 12: needless rules and asks': """
+>>> from likeboughs.needless import needless_asks, needless_rules, without_ask, without_rule
+>>> [needless_rules(book, 'full'), without_rule(book, 3).kinds]
+[[0, 1, 2, 3], ['any', 'full']]
+>>> [needless_asks(book, 'full'), needless_asks(thin, 'leaf'), without_ask(thin, 1, 0).rules[1]]
+[[(3, 0)], [(1, 0)], ('odd', 'f', ('leaf', 'leaf'), ())]
 """,
     'Stage 14: surroundings': """
 >>> from likeboughs.surroundings import are_kin, filled, is_frame, is_parter, parter

@@ -2,10 +2,15 @@
 
 import unittest
 
+from likeboughs.beside import are_alike, holds, parting
+from likeboughs.books import Book
 from likeboughs.counting import count, listed
+from likeboughs.cuts import cut, of_trees
 from likeboughs.errors import TooMany
 from likeboughs.finite import all_trees, is_finite, is_ring, ring
+from likeboughs.joined import without
 from likeboughs.made import is_made, least, least_size
+from likeboughs.needless import needless_rules, without_rule
 from likeboughs.readings import is_of, lot_of
 from likeboughs.surroundings import are_kin, filled
 from likeboughs.tables import counts, is_table, table
@@ -97,6 +102,65 @@ class TogetherTest(unittest.TestCase):
                 for kind in lot:
                     self.assertIs(is_made(book, kind), True)
                     self.assertLessEqual(least_size(book, kind), plain_size(trees[0]))
+
+    def other_books(self, book):
+        """Books that differ from a book in the order of rules, in rules that stand twice, or in names, and the new names."""
+        names = {kind: 'z' + kind[::-1] for kind in book.kinds}
+        yield Book(book.signs, book.rules[::-1]), {}
+        yield Book(book.signs, book.rules + book.rules[::2]), {}
+        yield book.renamed(names), names
+        yield Book(book.signs, (book | book).rules[1:] + book.rules[:1]), {}
+        yield Book(dict(reversed(book.signs.items())), book.rules), {}
+
+    def test_order_of_rules_rules_that_stand_twice_and_names(self):
+        for book in some_books(107, 25):
+            trees = [tree for places in (1, 2, 3, 4) for tree in trees_of_size(book.signs, places)][:12]
+            for other, names in self.other_books(book):
+                def renamed(lot):
+                    return tuple(sorted(names.get(kind, kind) for kind in lot))
+                self.assertEqual(counts(other), {renamed(lot): number for lot, number in counts(book).items()})
+                for tree in trees:
+                    self.assertEqual(lot_of(other, tree), renamed(lot_of(book, tree)))
+                for kind in book.kinds:
+                    name = names.get(kind, kind)
+                    for places in [1, 2, 3, 6, 7, 40]:
+                        self.assertEqual(count(other, name, places), count(book, kind, places))
+                    self.assertEqual(least_size(other, name), least_size(book, kind))
+                    self.assertIs(is_finite(other, name), is_finite(book, kind))
+                    self.assertIs(are_alike(book, kind, other, name), True)
+                    self.assertIs(holds(other, name, book, kind), True)
+                    self.assertIs(parting(other, name, book, kind), None)
+                    self.assertIs(is_made(*without(other, name, book, kind)), False)
+                    self.assertEqual(are_kin(other, name, *trees[:2]), are_kin(book, kind, *trees[:2]))
+                    told = ring(book, kind)
+                    if told is not None:
+                        self.assertIs(is_ring(other, name, told), True)
+
+    def test_a_rule_that_stands_twice_is_needless(self):
+        for book in some_books(108, 25):
+            twice = Book(book.signs, book.rules + book.rules)
+            for kind in book.kinds + ['none']:
+                self.assertEqual(needless_rules(twice, kind), list(range(len(twice))))
+                told = needless_rules(book, kind)
+                self.assertTrue(all(are_alike(without_rule(book, index), kind, book, kind) for index in told))
+
+    def test_cut_and_counted(self):
+        for book in some_books(109, 25):
+            for kind in book.kinds:
+                for size in range(1, 8):
+                    told, name = cut(book, kind, size)
+                    self.assertIs(holds(book, kind, told, name) if len(counts(told)) <= 5 else True, True)
+                    for places in range(1, 9):
+                        self.assertEqual(count(told, name, places), count(book, kind, places) if places <= size else 0)
+
+    def test_listed_trees_make_a_kind(self):
+        for book in some_books(110, 25):
+            for kind in book.kinds:
+                trees = [tree for places in range(1, 6) for tree in listed(book, kind, places)][:20]
+                told, name = of_trees(book.signs, trees)
+                self.assertEqual(all_trees(told, name), trees)
+                self.assertEqual([count(told, name, places) for places in range(1, 7)],
+                                 [sum(plain_size(tree) == places for tree in trees) for places in range(1, 7)])
 
 
 if __name__ == '__main__':
