@@ -3,7 +3,7 @@
 from likeboughs.books import check_book, check_kind
 from likeboughs.census import Census
 from likeboughs.errors import InvalidNumber, InvalidTree, TooMany
-from likeboughs.makers import maker_of
+from likeboughs.reach import maker_beneath
 from likeboughs.readings import is_of
 from likeboughs.trees import MOST_SIZE, MOST_TREES, check_tree
 from likeboughs.walks import places_of
@@ -28,7 +28,7 @@ def count(book, kind, size):
     check_book(book)
     check_kind(kind)
     check_size(size)
-    return Census(maker_of(book), size).how_many(kind, size)
+    return Census(maker_beneath(book, kind), size).how_many(kind, size)
 
 
 def listed(book, kind, size):
@@ -36,7 +36,7 @@ def listed(book, kind, size):
     check_book(book)
     check_kind(kind)
     check_size(size)
-    return trees_listed(Census(maker_of(book), size), kind, size)
+    return trees_listed(Census(maker_beneath(book, kind), size), kind, size)
 
 
 def tree_at(book, kind, size, index):
@@ -44,7 +44,7 @@ def tree_at(book, kind, size, index):
     check_book(book)
     check_kind(kind)
     check_size(size)
-    census = Census(maker_of(book), size)
+    census = Census(maker_beneath(book, kind), size)
     if not is_between(index, 0, census.how_many(kind, size) - 1):
         raise InvalidNumber("there is no tree with this index")
     return trees_listed(census, kind, size)[index]
@@ -58,4 +58,4 @@ def place_of(book, kind, tree):
     size = len(places_of(tree))
     if size > MOST_SIZE or not is_of(book, kind, tree):
         raise InvalidTree("the tree has more than forty places, or is not of the kind")
-    return trees_listed(Census(maker_of(book), size), kind, size).index(tree)
+    return trees_listed(Census(maker_beneath(book, kind), size), kind, size).index(tree)

@@ -1,10 +1,12 @@
 """Numbers of trees of a kind, lists of them, and places in these lists."""
 
 import unittest
+from unittest.mock import patch
 
 from likeboughs.books import Book
 from likeboughs.counting import count, listed, place_of, tree_at
 from likeboughs.errors import InvalidNumber, InvalidTree, TooMany
+from likeboughs.makers import Maker
 from likeboughs.trees import is_less
 from tests.plain import plain_lot, plain_size, plain_trees, random_books
 from tests.samples import (
@@ -147,6 +149,77 @@ class CountTest(unittest.TestCase):
                             call(example_book(), kind, size)
                     with self.assertRaises(InvalidNumber):
                         tree_at(example_book(), kind, size, 0)
+
+
+class ManyCallsTest(unittest.TestCase):
+    """Books that are asked often, and many books that are asked one behind another."""
+
+    def book(self):
+        return Book(SIGNS, [
+            ('k', 'a', (), ()), ('k', 'b', (), ()), ('k', 'f', ('k', 'k'), ()), ('l', 'f', ('k', 'k'), ((0, 1, True),)),
+            ('m', 'f', ('k', 'k'), ((0, 1, False),)), ('n', 'a', (), ()), ('n', 'f', ('n', 'n'), ((0, 1, True),)),
+        ])
+
+    def triple_book(self):
+        return Book({'a': 0, 't': 3, 'c': 0}, [
+            ('k', 'a', (), ()), ('k', 'c', (), ()), ('l', 't', ('k', 'k', 'l'), ((0, 1, True),)), ('l', 'c', (), ()),
+            ('k', 't', ('l', 'k', 'k'), ((0, 2, False),)), ('l', 't', ('k', 'k', 'k'), ()),
+        ])
+
+    def test_calls_at_small_and_great_sizes(self):
+        wanted = {
+            ('k', 1): 2, ('k', 3): 4, ('l', 1): 0, ('l', 3): 2, ('m', 1): 0, ('m', 3): 2, ('n', 1): 1, ('n', 3): 1,
+            ('k', 11): 2688, ('l', 11): 16, ('m', 11): 2672, ('k', 2): 0, ('l', 2): 0, ('m', 2): 0, ('n', 31): 1,
+            ('k', 39): 1853109766717440, ('l', 40): 0,
+        }
+        self.assertEqual(len(wanted), 17)
+        for _ in range(3):
+            self.assertEqual({call: count(self.book(), *call) for call in wanted}, wanted)
+            self.assertEqual({call: count(self.book(), *call) for call in reversed(wanted)}, wanted)
+        book = self.book()
+        self.assertEqual({call: count(book, *call) for call in wanted}, wanted)
+
+    def test_three_brothers(self):
+        book = self.triple_book()
+        self.assertEqual([count(book, 'k', size) for size in (1, 7, 10, 40)], [2, 38, 322, 212723794458874])
+        self.assertEqual(count(book, 'l', 40), 261270541004968)
+        trees = plain_trees(book.signs, 10)
+        known = {}
+        for size in trees:
+            for kind in ['k', 'l', 'm']:
+                self.assertEqual(count(book, kind, size), sum(kind in plain_lot(book, tree, known) for tree in trees[size]))
+
+    def test_many_books_one_behind_another(self):
+        books = [self.book(), self.triple_book(), example_book(), short_book()] + [book for book, _ in random_books(52, 60)]
+        told = [[count(book, kind, size) for kind in book.kinds for size in (1, 2, 3, 11)] for book in books]
+        self.assertEqual([[count(book, kind, size) for kind in book.kinds for size in (1, 2, 3, 11)] for book in books], told)
+        self.assertEqual([[count(Book(book.signs, book.rules), kind, size) for kind in book.kinds for size in (1, 2, 3, 11)]
+                          for book in reversed(books)], told[::-1])
+        for book, row in zip(books, told):
+            lots = [{}, {}, {}, {}]
+            for size in (1, 2, 3):
+                for tree in plain_trees(book.signs, 3)[size]:
+                    for kind in plain_lot(book, tree):
+                        lots[size][kind] = lots[size].get(kind, 0) + 1
+            for at, kind in enumerate(book.kinds):
+                self.assertEqual(row[4 * at:4 * at + 3], [lots[size].get(kind, 0) for size in (1, 2, 3)])
+
+    def test_small_sizes_look_at_few_steps(self):
+        looked = []
+        told = Maker.told
+
+        def watched(maker, sign, row):
+            looked.append((sign, row))
+            return told(maker, sign, row)
+
+        with patch.object(Maker, 'told', watched):
+            for kind in 'klmn':
+                count(self.book(), kind, 1)
+                self.assertEqual(looked, [('a', ()), ('b', ())])
+                looked.clear()
+            count(self.book(), 'k', 40)
+            # The kind k hangs on none of the other kinds, so that it has one lot.
+            self.assertEqual(len(looked), 3)
 
 
 class ListedTest(unittest.TestCase):
