@@ -6,8 +6,7 @@ from likeboughs.rows import rows_apart, rows_out_of
 from likeboughs.shapes import asks_hold, firsts_of, pattern_in
 
 MOST_LISTED = 300
-# A kind of few trees, three of which stand beneath a sign, has no more rows than this by one rule.
-MOST_ROWS = 8000
+MOST_ROWS = 50000
 
 
 def ended_lots(field):
@@ -84,27 +83,30 @@ def trees_of_lots(grove, field, wanted):
     return [number for lot in wanted for number in held[lot]]
 
 
+def number_of_rows(held, rule):
+    """How many rows of brothers of the kinds in a rule there are."""
+    rows = 1
+    for lower in rule[2]:
+        rows = rows * len(held[lower])
+    return rows
+
+
 def trees_by_rules(grove, held, made_by):
-    """A dict whose keys are the numbers of all trees that rules make, or None if there is too much to look through."""
+    """The list of the numbers of all trees that rules make of trees of the kinds beneath."""
     found = {}
     for _, sign, kinds, asks in made_by:
-        rows = 1
-        for lower in kinds:
-            rows *= len(held[lower])
-        if rows > MOST_ROWS:
-            return None
         for row in rows_out_of([held[lower] for lower in kinds]):
             if asks_hold(asks, pattern_in(row)):
                 found[grove.plant((sign, *row))] = True
-    return found
+    return list(found)
 
 
 def trees_by_kinds(grove, rules, kind):
     """The numbers in a grove of all trees of a kind, where no rules lead from a kind back to it.
 
     Books of thousands of kinds have too many lots to go by, but each of their
-    kinds may have few trees. None where there are rings of rules, or too many
-    trees beneath.
+    kinds may have few trees. None where there are rings of rules, too many trees
+    of some kind beneath, or too many rows of them to look through.
     """
     order = kinds_in_order(rules)
     if order is None:
@@ -113,9 +115,12 @@ def trees_by_kinds(grove, rules, kind):
     for rule in rules:
         made_by[rule[0]].append(rule)
     held = {}
+    looked = 0
     for name in order:
-        found = trees_by_rules(grove, held, made_by[name])
-        if found is None or len(found) > MOST_LISTED:
+        looked = looked + sum([number_of_rows(held, rule) for rule in made_by[name]])
+        if looked > MOST_ROWS:
             return None
-        held[name] = list(found)
+        held[name] = trees_by_rules(grove, held, made_by[name])
+        if len(held[name]) > MOST_LISTED:
+            return None
     return held.get(kind, [])

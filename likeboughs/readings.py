@@ -23,13 +23,30 @@ def is_of(book, kind, tree):
     return kind in lot_of(book, tree)
 
 
+class Chooser:
+    """The choice of a rule for each kind of a tree, made once for each step."""
+
+    def __init__(self, book):
+        self.maker = maker_of(book)
+        self._kinds_made = [rule[0] for rule in book.rules]
+        self._chosen = {}
+
+    def rule(self, sign, row, pattern, kind):
+        """The index of the first rule that gives a kind to a tree with a sign, a row of lots beneath, and a pattern."""
+        key = (sign, row, pattern)
+        if key not in self._chosen:
+            makers = self.maker.makers(sign, row, pattern)
+            self._chosen[key] = {self._kinds_made[index]: index for index in reversed(makers)}
+        return self._chosen[key][kind]
+
+
 def chosen_rules(book, nodes, wanted):
     """A rule for the last node as a kind, and for each node and kind that the rules chosen need.
 
     They are told by a dict from (number of a node, kind) to the index of a rule.
     """
-    maker, rules = maker_of(book), book.rules
-    lots = lots_of_nodes(maker, nodes)
+    chooser, rules = Chooser(book), book.rules
+    lots = lots_of_nodes(chooser.maker, nodes)
     waiting = [(len(nodes) - 1, wanted)]
     chosen = {}
     while waiting:
@@ -37,8 +54,7 @@ def chosen_rules(book, nodes, wanted):
         if (number, kind) not in chosen:
             sign, *brothers = nodes[number]
             row = tuple([lots[brother] for brother in brothers])
-            makers = maker.makers(sign, row, pattern_in(brothers))
-            index = [at for at in makers if rules[at][0] == kind][0]
+            index = chooser.rule(sign, row, pattern_in(brothers), kind)
             chosen[(number, kind)] = index
             waiting.extend(list(zip(brothers, rules[index][2])))
     return chosen
