@@ -18,8 +18,8 @@ MOST_TOLD = 20
 def book_of_kind(book, kind):
     """A tuple of a book and of a kind with just the trees of a kind, its rules told by lots."""
     maker = maker_beneath(book, kind)
-    field = Field(maker)
-    return book_of_lots(book.signs, field, [lot for lot in field.counts if maker.has(lot, kind)])
+    counts = Field(maker).counts
+    return book_of_lots(maker, counts, [lot for lot in counts if maker.has(lot, kind)])
 
 
 def cut(book, kind, size):

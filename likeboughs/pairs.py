@@ -44,6 +44,10 @@ class Pair:
             self._steps_told[key] = [pair for pair in steps if pair[1] > 0]
         return self._steps_told[key]
 
+    def step(self, sign, row, pattern):
+        """The number of the lot of a tree, from its sign, its brothers' lots' numbers, and their pattern."""
+        return dict(self.told(sign, row)).get(pattern, 0)
+
     def _lot_made(self, sign, ready, other_ready, pattern):
         pair = (self._one.lot_made(sign, ready, pattern), self._other.lot_made(sign, other_ready, pattern))
         if pair not in self._numbers:

@@ -140,6 +140,25 @@ class JoinedTest(unittest.TestCase):
                 other = Book(signs, leaves[:2] + [('l', 'g', ('k', 'k', 'k'), others), ('l', 'a', (), ())])
                 self.check(one, 'l', other, 'l', trees)
 
+    def test_lots_that_make_no_difference(self):
+        # All that is joined is any: three rules do.
+        book = example_book()
+        told, kind = self.check_book(SIGNS, joined(book, 'any', book, 'twin'))
+        self.assertEqual([len(told), counts(told)], [3, {(kind,): 4}])
+        told, kind = self.check_book(SIGNS, common(book, 'any', book, 'any'))
+        self.assertEqual(len(told), 3)
+        # Beneath f trees of p and of q are as good as each other, but one of each is not as good as two of one.
+        signs = {'a': 0, 'b': 0, 's': 1, 'f': 2, 'g': 3}
+        rules = [('p', 'a', (), ()), ('q', 'b', (), ()), ('r', 'f', ('p', 'q'), ()), ('r', 'f', ('q', 'p'), ())]
+        more = [('p', 's', ('p',), ()), ('q', 's', ('q',), ()), ('u', 'f', ('p', 'p'), ()), ('u', 'f', ('q', 'q'), ()),
+                ('r', 'g', ('p', 'p', 'q'), ()), ('r', 'g', ('q', 'q', 'p'), ()), ('r', 's', ('r',), ())]
+        trees = trees_up_to(signs, 5)
+        for book in [Book(signs, rules), Book(signs, rules + more[:2]), Book(signs, rules + more)]:
+            for kind in ['p', 'q', 'r', 'u']:
+                self.check_opposite(book, kind, trees)
+                for other in ['p', 'r', 'u']:
+                    self.check(book, kind, book, other, trees)
+
     def test_many_rules(self):
         book = Book(SIGNS, ANY_RULES + [('twin', 'f', ('any', 'any'), ((0, 1, True),))] * 1997)
         self.check(book, 'twin', book, 'any', trees_up_to(SIGNS, 5))
