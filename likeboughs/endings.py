@@ -1,12 +1,10 @@
-"""Lots and kinds with finitely many trees, and all these trees."""
+"""Lots with finitely many trees, and all these trees."""
 
-from likeboughs.reach import kinds_in_order
 from likeboughs.rounds import ways
-from likeboughs.rows import rows_apart, rows_out_of
-from likeboughs.shapes import asks_hold, firsts_of, pattern_in
+from likeboughs.rows import rows_apart
+from likeboughs.shapes import firsts_of
 
 MOST_LISTED = 300
-MOST_ROWS = 50000
 
 
 def ended_lots(field):
@@ -81,46 +79,3 @@ def trees_of_lots(grove, field, wanted):
     for lot in order:
         held[lot] = [grove.plant(node) for step in steps[lot] for node in nodes_made(held, step)]
     return [number for lot in wanted for number in held[lot]]
-
-
-def number_of_rows(held, rule):
-    """How many rows of brothers of the kinds in a rule there are."""
-    rows = 1
-    for lower in rule[2]:
-        rows = rows * len(held[lower])
-    return rows
-
-
-def trees_by_rules(grove, held, made_by):
-    """The list of the numbers of all trees that rules make of trees of the kinds beneath."""
-    found = {}
-    for _, sign, kinds, asks in made_by:
-        for row in rows_out_of([held[lower] for lower in kinds]):
-            if asks_hold(asks, pattern_in(row)):
-                found[grove.plant((sign, *row))] = True
-    return list(found)
-
-
-def trees_by_kinds(grove, rules, kind):
-    """The numbers in a grove of all trees of a kind, where no rules lead from a kind back to it.
-
-    Books of thousands of kinds have too many lots to go by, but each of their
-    kinds may have few trees. None where there are rings of rules, too many trees
-    of some kind beneath, or too many rows of them to look through.
-    """
-    order = kinds_in_order(rules)
-    if order is None:
-        return None
-    made_by = {name: [] for name in order}
-    for rule in rules:
-        made_by[rule[0]].append(rule)
-    held = {}
-    looked = 0
-    for name in order:
-        looked = looked + sum([number_of_rows(held, rule) for rule in made_by[name]])
-        if looked > MOST_ROWS:
-            return None
-        held[name] = trees_by_rules(grove, held, made_by[name])
-        if len(held[name]) > MOST_LISTED:
-            return None
-    return held.get(kind, [])

@@ -1,10 +1,11 @@
 """Whether there are finitely many trees of a kind: all of them, or a ring."""
 
 from likeboughs.books import check_book, check_kind
-from likeboughs.endings import ended_lots, trees_by_kinds, trees_of_lots
+from likeboughs.endings import MOST_LISTED, ended_lots, trees_of_lots
 from likeboughs.errors import TooMany
 from likeboughs.fields import Field
 from likeboughs.frames import is_frame_of
+from likeboughs.gathering import Gathering
 from likeboughs.groves import Grove
 from likeboughs.makers import Maker, lots_of_nodes, maker_of
 from likeboughs.reach import kinds_in_order, rules_beneath
@@ -30,21 +31,31 @@ def is_finite(book, kind):
     return has_an_end(book, kind)
 
 
+def numbers_of_all(grove, signs, rules, kind):
+    """The numbers in a grove of all trees of a kind; None if there are more than three hundred, or no end of them."""
+    order = kinds_in_order(rules)
+    if order is not None:
+        gathering = Gathering(grove, rules, order)
+        if gathering.least_number(kind) > MOST_LISTED:
+            return None
+        numbers = gathering.trees(kind)
+        if numbers is not None:
+            return numbers if len(numbers) <= MOST_LISTED else None
+    maker = Maker(signs, rules)
+    field = Field(maker)
+    return trees_of_lots(grove, field, [lot for lot in field.counts if maker.has(lot, kind)])
+
+
 def all_trees(book, kind):
     """The ascending list of all trees of a kind, of which there are at most three hundred."""
     check_book(book)
     check_kind(kind)
     grove = Grove()
-    rules = rules_beneath(book, kind)
-    numbers = trees_by_kinds(grove, rules, kind)
-    if numbers is None:
-        maker = Maker(book.signs, rules)
-        field = Field(maker)
-        numbers = trees_of_lots(grove, field, [lot for lot in field.counts if maker.has(lot, kind)])
+    numbers = numbers_of_all(grove, book.signs, rules_beneath(book, kind), kind)
     if numbers is None:
         raise TooMany("there are more than three hundred trees of this kind, or no end of them")
     trees = grove.trees()
-    return [row[1] for row in sorted([(grove.sizes[number], trees[number]) for number in numbers])]
+    return [row[1] for row in sorted([(grove.places[number], trees[number]) for number in numbers])]
 
 
 def ring(book, kind):

@@ -7,12 +7,12 @@ class Grove:
     """Different trees, each told by its node: its sign, and the numbers of its brothers.
 
     Brothers stand ahead of what they are beneath. Nodes serve as keys where a
-    tree cannot: it may be too deep.
+    tree cannot: it may be too deep. places has the size of each tree.
     """
 
     def __init__(self):
         self.nodes = []
-        self.sizes = []
+        self.places = []
         self._numbers = {}
 
     def plant(self, node):
@@ -20,8 +20,25 @@ class Grove:
         if node not in self._numbers:
             self._numbers[node] = len(self.nodes)
             self.nodes.append(node)
-            self.sizes.append(1 + sum([self.sizes[number] for number in node[1:]]))
+            self.places.append(1 + sum([self.places[number] for number in node[1:]]))
         return self._numbers[node]
+
+    def plant_all(self, nodes):
+        """The numbers of the trees of nodes. As plant, but without a call for each of them."""
+        numbers, places = self._numbers, self.places
+        found = []
+        for node in nodes:
+            number = numbers.get(node)
+            if number is None:
+                number = len(places)
+                numbers[node] = number
+                self.nodes.append(node)
+                size = 1
+                for brother in node[1:]:
+                    size += places[brother]
+                places.append(size)
+            found.append(number)
+        return found
 
     def put(self, thing, hole=None):
         """The number of a tree, or of a frame that is filled with the tree with the number told as hole."""
@@ -39,8 +56,12 @@ class Grove:
     def trees(self):
         """The list of all trees, by their numbers."""
         made = []
-        for sign, *brothers in self.nodes:
-            made.append((sign, *[made[number] for number in brothers]))
+        for node in self.nodes:
+            # Most trees have two brothers: they are made without a list on the way.
+            if len(node) == 3:
+                made.append((node[0], made[node[1]], made[node[2]]))
+            else:
+                made.append((node[0], *[made[number] for number in node[1:]]))
         return made
 
 

@@ -32,14 +32,14 @@ def next_level(grove, steps, small, great, most):
     for sign, row, pattern, lot in steps:
         for pools in pools_of(small, great, row, pattern):
             brothers = brothers_of(pattern, pools)
-            if brothers is not None and 1 + sum([grove.sizes[number] for number in brothers]) <= most:
+            if brothers is not None and 1 + sum([grove.places[number] for number in brothers]) <= most:
                 made.setdefault(lot, {})[grove.plant((sign, *brothers))] = True
     return {lot: list(made[lot]) for lot in made}
 
 
 def greatest(grove, numbers):
     """The greatest ones of some trees, each one once, the greatest one first."""
-    rows = sorted(list({(grove.sizes[number], number): True for number in numbers}), reverse=True)
+    rows = sorted(list({(grove.places[number], number): True for number in numbers}), reverse=True)
     return [row[1] for row in rows[:MOST_GREAT]]
 
 
@@ -59,7 +59,7 @@ def grown_beyond(grove, steps, small, lot, least):
     most = MOST_PLACES
     made = small
     while True:
-        beyond = [(grove.sizes[number], number) for number in made.get(lot, []) if grove.sizes[number] > least]
+        beyond = [(grove.places[number], number) for number in made.get(lot, []) if grove.places[number] > least]
         if beyond != []:
             return min(beyond)[1]
         made = next_level(grove, alike, small, great, most)

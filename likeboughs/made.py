@@ -28,7 +28,7 @@ def least_size(book, kind):
     check_kind(kind)
     grove = Grove()
     number = smallest_of(grove, book, kind)
-    return None if number is None else grove.sizes[number]
+    return None if number is None else grove.places[number]
 
 
 def least(book, kind):

@@ -44,7 +44,7 @@ class Nursery:
         return len(self.held.get(lot, [])) >= self._most
 
     def _wait(self, node, lot):
-        places = 1 + sum([self._grove.sizes[number] for number in node[1:]])
+        places = 1 + sum([self._grove.places[number] for number in node[1:]])
         heappush(self._queue, (places, len(self._waiting)))
         self._waiting.append((node, lot))
 

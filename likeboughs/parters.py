@@ -81,7 +81,7 @@ class Parter:
                 for row in rows[many - 1]:
                     upper = self._pair_above(sign, row, place, pair)
                     if self._lots_of(upper) not in self._seen:
-                        more = places + 1 + sum([self._grove.sizes[number] for number in row])
+                        more = places + 1 + sum([self._grove.places[number] for number in row])
                         brothers = (*row[:place], None, *row[place:])
                         self._wait(more, upper, levels + [(sign, brothers)])
 

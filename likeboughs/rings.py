@@ -33,7 +33,7 @@ def levels_of(grove, held, steps):
     for sign, row, pattern, lot in steps:
         for place in firsts_of(pattern):
             brothers = brothers_beside(held, row, pattern, place)
-            places = 1 + sum([grove.sizes[number] for number in brothers if number is not None])
+            places = 1 + sum([grove.places[number] for number in brothers if number is not None])
             key = (row[place], lot, brothers.count(None))
             if key not in best or places < best[key][1]:
                 best[key] = (lot, places, brothers.count(None), (sign, brothers))

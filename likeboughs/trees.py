@@ -57,7 +57,7 @@ def parts(signs, tree):
     check_tree(signs, tree)
     grove = Grove()
     grove.put(tree)
-    return [row[1] for row in sorted(list(zip(grove.sizes, grove.trees())))]
+    return [row[1] for row in sorted(list(zip(grove.places, grove.trees())))]
 
 
 def is_less(signs, one, other):
