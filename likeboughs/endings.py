@@ -26,6 +26,15 @@ def ended_lots(field):
     return list(ended)
 
 
+def steps_to(field, lots):
+    """A dict from some lots to the lists of the steps of a field that tell them."""
+    steps = {lot: [] for lot in lots}
+    for step in field.steps:
+        if step[3] in steps:
+            steps[step[3]].append(step)
+    return steps
+
+
 def lots_needed(steps, wanted):
     """A dict whose keys are lots, those beneath them, and so on, by the steps that tell them."""
     needed = {lot: True for lot in wanted}
@@ -58,18 +67,15 @@ def nodes_made(held, step):
 
 
 def trees_of_lots(grove, field, wanted):
-    """The numbers in a grove of all trees of lots, or None if they are too many to be listed.
+    """A dict from lots, and those beneath, to the numbers in a grove of all their trees.
 
-    No lot beneath has more trees than the lots wanted have together: so all
-    that is made on the way is short, too.
+    None if the lots wanted have too many trees to be listed. No lot beneath has
+    more trees than these have together: so all that is made on the way is short.
     """
     ended = ended_lots(field)
     if not all([lot in ended for lot in wanted]):
         return None
-    steps = {lot: [] for lot in ended}
-    for step in field.steps:
-        if step[3] in steps:
-            steps[step[3]].append(step)
+    steps = steps_to(field, ended)
     needed = lots_needed(steps, wanted)
     order = [lot for lot in ended if lot in needed]
     many = numbers_of_trees(steps, order)
@@ -78,4 +84,4 @@ def trees_of_lots(grove, field, wanted):
     held = {}
     for lot in order:
         held[lot] = [grove.plant(node) for step in steps[lot] for node in nodes_made(held, step)]
-    return [number for lot in wanted for number in held[lot]]
+    return held

@@ -43,7 +43,9 @@ def numbers_of_all(grove, signs, rules, kind):
             return numbers if len(numbers) <= MOST_LISTED else None
     maker = Maker(signs, rules)
     field = Field(maker)
-    return trees_of_lots(grove, field, [lot for lot in field.counts if maker.has(lot, kind)])
+    wanted = [lot for lot in field.counts if maker.has(lot, kind)]
+    held = trees_of_lots(grove, field, wanted)
+    return None if held is None else [number for lot in wanted for number in held[lot]]
 
 
 def all_trees(book, kind):

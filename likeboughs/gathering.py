@@ -23,7 +23,7 @@ def firsts_asked(many, asks):
 class Form:
     """A rule, told by the different brothers that it needs: those that are asked to be the same are one.
 
-    kinds has for each of them the kinds that it is of, apart those ahead of it
+    names has for each of them the kinds that it is of, apart those ahead of it
     that it must not be, at tells for each place which of them stands there.
     """
 
@@ -32,7 +32,7 @@ class Form:
         self.is_shared = False
         self.is_barred = False
         self.at = list(range(len(kinds)))
-        self.kinds = [[kind] for kind in kinds]
+        self.names = [[kind] for kind in kinds]
         self.apart = [[] for _ in kinds]
         if asks != ():
             self._look_at(kinds, asks)
@@ -42,7 +42,7 @@ class Form:
         ones = sorted(set(firsts))
         self.is_shared = len(ones) < len(kinds)
         self.at = [ones.index(first) for first in firsts]
-        self.kinds = [sorted({kinds[place] for place, first in enumerate(firsts) if first == one}) for one in ones]
+        self.names = [sorted({kinds[place] for place, first in enumerate(firsts) if first == one}) for one in ones]
         self.apart = [[] for _ in ones]
         for first, second, same in asks:
             least, most = sorted([self.at[first], self.at[second]])
@@ -56,13 +56,13 @@ class Form:
         if self.is_barred:
             return 0
         number = 1
-        for kinds, others in zip(self.kinds, self.apart):
+        for kinds, others in zip(self.names, self.apart):
             # Of two kinds that are not the same no tree may be of both.
             here = least[kinds[0]] if len(kinds) == 1 else 0
             number = number * max(0, here - len(others))
         return number
 
-    def nodes(self, pools):
+    def trees_made(self, pools):
         """The nodes of trees that the rule makes: all, or more than the most listed."""
         rows = [()]
         for pool, others in zip(pools, self.apart):
@@ -118,8 +118,8 @@ class Gathering:
         found = []
         for form in self._forms[name]:
             if not form.is_barred:
-                pools = [self._pool(kinds) for kinds in form.kinds]
-                found.append(self._grove.plant_all(form.nodes(pools)))
+                pools = [self._pool(kinds) for kinds in form.names]
+                found.append(self._grove.plant_all(form.trees_made(pools)))
                 if not self._is_sure(form, pools):
                     self._unsure[name] = True
         numbers = found[0] if len(found) == 1 else list({number: True for row in found for number in row})
@@ -137,6 +137,6 @@ class Gathering:
 
     def _is_sure(self, form, pools):
         """Whether no brothers are missing in pools, or it does not matter, as there are none for some place."""
-        sure = [all([kind not in self._unsure for kind in kinds]) for kinds in form.kinds]
-        none = [any([self._held[kind] == [] and kind not in self._unsure for kind in kinds]) for kinds in form.kinds]
+        sure = [all([kind not in self._unsure for kind in kinds]) for kinds in form.names]
+        none = [any([self._held[kind] == [] and kind not in self._unsure for kind in kinds]) for kinds in form.names]
         return all(sure) or any(none) or any([known and pool == [] for known, pool in zip(sure, pools)])

@@ -23,11 +23,11 @@ class Grove:
             self.places.append(1 + sum([self.places[number] for number in node[1:]]))
         return self._numbers[node]
 
-    def plant_all(self, nodes):
-        """The numbers of the trees of nodes. As plant, but without a call for each of them."""
+    def plant_all(self, rows):
+        """The numbers of the trees of a list of nodes. As plant, but without a call for each of them."""
         numbers, places = self._numbers, self.places
         found = []
-        for node in nodes:
+        for node in rows:
             number = numbers.get(node)
             if number is None:
                 number = len(places)

@@ -21,23 +21,37 @@ class Nursery:
         self._above = {}
         self._waiting = []
         self._queue = []
+        self._newest = None
         for sign, row, pattern, lot in steps:
             for place in firsts_of(pattern):
                 self._above.setdefault(row[place], []).append((sign, row, pattern, place, lot))
             if row == ():
                 self._wait((sign,), lot)
 
-    def grow(self, wanted):
-        """Grow trees until one has a lot out of a list: its number, or None when there are no more to be grown."""
+    def next_tree(self):
+        """Grow one more tree: its number and its lot, or None when there are no more to be grown."""
+        if self._newest is not None:
+            # Only now, as it may have been the last one that is asked for.
+            self._wait_above(*self._newest)
+            self._newest = None
         while self._queue:
             _, at = heappop(self._queue)
             node, lot = self._waiting[at]
             if not self._is_full(lot):
-                newest = self._grove.plant(node)
-                self.held.setdefault(lot, []).append(newest)
-                if lot in wanted:
-                    return newest
-                self._wait_above(lot, newest)
+                number = self._grove.plant(node)
+                self.held.setdefault(lot, []).append(number)
+                self._newest = (lot, number)
+                return (number, lot)
+        return None
+
+    def grow(self, wanted):
+        """Grow trees until one has a lot out of a list: its number, or None when there are no more to be grown."""
+        grown = self.next_tree()
+        while grown is not None:
+            number, lot = grown
+            if lot in wanted:
+                return number
+            grown = self.next_tree()
         return None
 
     def _is_full(self, lot):
@@ -69,21 +83,21 @@ class Nursery:
         return rows
 
 
-def most_needed(lots):
-    """How many trees of each lot may stand in the four smallest ones of a lot, where there are so many lots.
+def most_needed(many, lots):
+    """How many trees of each lot may stand in so many of the smallest ones of a lot, where there are so many lots.
 
     In g(x, y, y) a small y is worth more than a small x. So the smallest trees
     of one lot may need the next ones beyond the smallest of another lot, which
     may need those beyond in a third lot: one more for each lot there is.
     """
-    return MOST_COUNTED + lots
+    return many + lots
 
 
 def smallest_in(grove, field, wanted):
     """The number of a smallest tree that has a lot out of a list, or None if there is none."""
     if wanted == []:
         return None
-    return Nursery(grove, field.steps, most_needed(len(field.counts))).grow(wanted)
+    return Nursery(grove, field.steps, most_needed(MOST_COUNTED, len(field.counts))).grow(wanted)
 
 
 def some_trees(grove, field):
@@ -96,7 +110,7 @@ def some_trees(grove, field):
 def smallest_trees(maker, known):
     """A dict from lots to lists of four trees of least sizes, or of all trees if there are fewer."""
     grove = Grove()
-    nursery = Nursery(grove, [row[:4] for row in steps_let(maker, known)], most_needed(len(known)))
+    nursery = Nursery(grove, [row[:4] for row in steps_let(maker, known)], most_needed(MOST_COUNTED, len(known)))
     nursery.grow([])
     trees = grove.trees()
     return {lot: [trees[number] for number in nursery.held[lot][:MOST_COUNTED]] for lot in nursery.held}

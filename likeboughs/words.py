@@ -4,9 +4,14 @@ LONGEST_NAME = 8
 LETTERS = "abcdefghijklmnopqrstuvwxyz"
 
 
+def is_integer(thing):
+    """Whether an object is an integer; a bool is none."""
+    return isinstance(thing, int) and not isinstance(thing, bool)
+
+
 def is_between(thing, least, most):
     """Whether an object is an integer within two bounds; a bool is none."""
-    return isinstance(thing, int) and not isinstance(thing, bool) and least <= thing <= most
+    return is_integer(thing) and least <= thing <= most
 
 
 def is_name(thing):

@@ -1,7 +1,10 @@
 """Signs, trees, books and odd objects that several tests use."""
 
 from likeboughs.books import Book
+from likeboughs.draft import Draft
 from likeboughs.errors import BoughError, ParseError
+from likeboughs.reader import Reader
+from likeboughs.shell import Shell
 
 SIGNS = {'a': 0, 'b': 0, 'f': 2}
 ALL_SIGNS = {'a': 0, 's': 1, 'f': 2, 'g': 3}
@@ -80,7 +83,8 @@ def odd_objects():
         nested(lambda thing: ('f', A, thing), 60), nested(lambda thing: ('f', thing, None), 60),
         list(range(5000)), tuple(range(5000)), {number: number for number in range(2500)}, [A] * 3000,
         example_book(), Book({'f': 2}, []), [example_book()], (example_book(),), {'a': example_book()},
-        ('f', example_book(), A), BoughError('odd'), ParseError(3),
+        ('f', example_book(), A), BoughError('odd'), ParseError(3), Reader(example_book()), Draft(SIGNS), Shell(), [Draft(SIGNS)],
+        ('f', Reader(example_book()), Shell()),
     ]
 
 

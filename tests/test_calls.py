@@ -10,11 +10,13 @@ from likeboughs.counting import count, listed
 from likeboughs.finite import all_trees, is_ring, ring
 from likeboughs.made import least_size
 from likeboughs.needless import needless_asks, needless_rules
+from likeboughs.nets import is_net
+from likeboughs.plain import is_parted_row
 from likeboughs.readings import is_of, is_reading, lot_of
 from likeboughs.steps import patterns
 from likeboughs.surroundings import are_kin, is_frame, is_parter
 from likeboughs.tables import counts, is_table, table
-from tests.calls import CALLS, FAA, FILES, SHORT_TABLE
+from tests.calls import CALLS, FAA, FILES, NET, SHORT_TABLE
 from tests.samples import A, ANY_RULES, B, SIGNS, asking_book, example_book, odd_objects, short_book
 
 
@@ -47,6 +49,8 @@ class ErrorsTest(unittest.TestCase):
             self.assertIs(is_ring(example_book(), 'any', thing), False)
             self.assertIs(is_frame(SIGNS, thing), thing is None or thing == ('f', A, None))
             self.assertIs(is_parter(example_book(), 'any', A, B, thing), False)
+            self.assertIs(is_net(SIGNS, thing), thing == [A])
+            self.assertIs(is_parted_row(example_book(), 'any', thing), thing == [A])
 
     def test_failing_calls_change_nothing(self):
         book = example_book()
@@ -78,8 +82,10 @@ class ParametersTest(unittest.TestCase):
         self.assertIs(is_ring(example_book(), 'full', told_ring), True)
         self.assertIn(told['parting'], [A, B])
         trees = [A, B, FAA, ('f', A, B), ('f', FAA, FAA)]
+        row = told.pop('parted_row')
+        self.assertEqual([is_parted_row(example_book(), 'twin', row), len(row)], [True, 3])
         for name, wanted in [('joined', [0, 1, 2, 3, 4]), ('common', [3]), ('without', [0, 1, 2, 4]), ('opposite', [0, 1, 3]),
-                             ('cut', [0, 1, 2, 3]), ('of_trees', [0, 2])]:
+                             ('cut', [0, 1, 2, 3]), ('of_trees', [0, 2]), ('plain', [3])]:
             book, kind = told.pop(name)
             self.assertEqual([at for at, tree in enumerate(trees) if is_of(book, kind, tree)], wanted)
         self.assertEqual(told, {
@@ -92,6 +98,14 @@ class ParametersTest(unittest.TestCase):
             'without_rule': Book(SIGNS, example_book().rules[1:]), 'parting': told['parting'],
             'without_ask': Book(SIGNS, ANY_RULES + [('twin', 'f', ('any', 'any'), ())] + example_book().rules[4:]),
             'is_ring': True, 'is_frame': True, 'filled': ('f', B, A), 'parter': (None,), 'is_parter': True, 'are_kin': True,
+            'is_signs': True, 'is_tree': True, 'size': 3, 'depth': 2, 'parts': [A, FAA], 'is_less': True, 'is_rule': True,
+            'trees_of_size': [FAA, ('f', A, B), ('f', B, A), ('f', B, B)], 'least_additions': [[(2, (0, 1, False))]],
+            'with_asks': Book(SIGNS, ANY_RULES[:2] + [('any', 'f', ('any', 'any'), ((0, 1, False),))] + example_book().rules[3:]),
+            'needs_asks': True, 'is_parted_row': True, 'is_net': True, 'net_sizes': [1, 1, 3, 5], 'same_nodes': [0, 1, 2, 3],
+            'least_net': [('a',), ('f', 0, 0), ('f', 1, 0)], 'net_lots': [('any',), ('any', 'full'), ('any', 'full', 'twin'), ('any',)],
+            'net_of': [('a',), ('f', 0, 0)], 'tree_of': ('f', FAA, A), 'format_tree': 'f(a,a)', 'format_rule': 'any = a',
+            'format_net': 'b a f:1:1 f:2:1', 'format_book': 'signs a:0 b:0 f:2\nleaf = a\nleaf = b\npair = f(leaf,leaf) 0!1',
+            'parse_tree': FAA, 'parse_rule': ('any', 'a', (), ()), 'parse_net': NET, 'parse_book': Book(SIGNS, ANY_RULES[:1]),
         })
         self.assertEqual([len(told['listed']), told['listed'][1]], [16, told['tree_at']])
 
@@ -158,6 +172,7 @@ class AnswersTest(unittest.TestCase):
     def test_lists_and_dicts_are_new(self):
         book = example_book()
         calls = [lambda: patterns(3), lambda: counts(book), lambda: table(book), lambda: listed(book, 'any', 3)]
+        calls += [lambda call=call, taken=taken: call(**taken) for call, taken, _ in CALLS if isinstance(call(**taken), list)]
         calls += [lambda: all_trees(short_book(), 'pair'), lambda: needless_rules(book, 'full'), lambda: needless_asks(book, 'full')]
         for call in calls + [lambda: needless_rules(book, 'any')]:
             told = call()
@@ -175,13 +190,16 @@ class AnswersTest(unittest.TestCase):
 
     def test_answers_of_the_kinds_told(self):
         bools = ['is_of', 'is_reading', 'is_table', 'is_made', 'is_finite', 'is_ring', 'is_frame', 'is_parter', 'are_kin',
-                 'holds', 'are_alike']
+                 'holds', 'are_alike', 'is_signs', 'is_tree', 'is_less', 'is_rule', 'needs_asks', 'is_parted_row', 'is_net']
         tuples = ['lot_of', 'reading', 'pattern_of', 'step', 'tree_at', 'least', 'ring', 'filled', 'parter',
-                  'parting', 'joined', 'common', 'without', 'opposite', 'cut', 'of_trees']
-        lists = ['patterns', 'table', 'listed', 'all_trees', 'needless_rules', 'needless_asks']
-        numbers = ['count', 'place_of', 'least_size']
+                  'parting', 'joined', 'common', 'without', 'opposite', 'cut', 'of_trees', 'plain', 'tree_of', 'parse_tree', 'parse_rule']
+        lists = ['patterns', 'table', 'listed', 'all_trees', 'needless_rules', 'needless_asks', 'parts', 'trees_of_size', 'least_additions',
+                 'parted_row', 'net_sizes', 'same_nodes', 'least_net', 'net_lots', 'net_of', 'parse_net']
+        numbers = ['count', 'place_of', 'least_size', 'size', 'depth']
+        made_books = ['without_rule', 'without_ask', 'with_asks', 'parse_book']
         wanted = {**dict.fromkeys(bools, bool), **dict.fromkeys(tuples, tuple), **dict.fromkeys(lists, list),
-                  **dict.fromkeys(numbers, int), 'counts': dict, 'without_rule': Book, 'without_ask': Book}
+                  **dict.fromkeys(numbers, int), 'counts': dict, **dict.fromkeys(made_books, Book),
+                  **dict.fromkeys(['format_tree', 'format_rule', 'format_net', 'format_book'], str)}
         self.assertEqual({call.__name__: type(call(**taken)) for call, taken, _ in CALLS}, wanted)
         for lot, trees in table(example_book()):
             self.assertEqual([type(lot), type(trees)], [tuple, list])

@@ -111,6 +111,15 @@ STAGES = {
 >>> [needless_asks(book, 'full'), needless_asks(thin, 'leaf'), without_ask(thin, 1, 0).rules[1]]
 [[(3, 0)], [(1, 0)], ('odd', 'f', ('leaf', 'leaf'), ())]
 """,
+    'Stage 13: asks to add': """
+>>> from likeboughs.additions import least_additions, with_asks
+>>> with_asks(book, [(2, (0, 1, False))]).rules[2]
+('any', 'f', ('any', 'any'), ((0, 1, False),))
+>>> least_additions(book, 'any', ('f', a, a))
+[[(2, (0, 1, False))]]
+>>> least_additions(book, 'any', a)
+[]
+""",
     'Stage 14: surroundings': """
 >>> from likeboughs.surroundings import are_kin, filled, is_frame, is_parter, parter
 >>> [filled(signs, ('f', None, ('f', None, b)), a), is_frame(signs, ('f', a, b))]
@@ -119,6 +128,64 @@ STAGES = {
 [True, True, True]
 >>> [are_kin(short, 'pair', a, b), are_kin(short, 'pair', ('f', a, a), four), is_parter(short, 'leaf', a, four, None), are_kin(short, 'leaf', a, four)]
 [False, True, True, False]
+""",
+    'Stage 15: rules without asks': """
+>>> from likeboughs.plain import is_parted_row, needs_asks, parted_row, plain
+>>> [needs_asks(book, 'twin'), needs_asks(short, 'pair'), needs_asks(book, 'any'), plain(book, 'full')]
+[True, False, False, None]
+>>> bare, bare_kind = plain(short, 'pair')
+>>> [[is_of(bare, bare_kind, tree) for tree in trees_of_size(signs, 3)], [rule[3] for rule in bare.rules if rule[3] != ()]]
+[[False, True, True, False], []]
+>>> [is_parted_row(book, 'twin', parted_row(book, 'twin', 6)), is_parted_row(book, 'twin', [a, b, a]), is_parted_row(book, 'any', [a])]
+[True, False, True]
+""",
+    'Stage 16: readers': """
+>>> from likeboughs.reader import Reader
+>>> reader = Reader(book)
+>>> [reader.put('a'), reader.again(0), reader.put('f'), len(reader)]
+[('any', 'full'), ('any', 'full'), ('any', 'full', 'twin'), 1]
+>>> [[reader.again(0), reader.put('f')][1] for lap in range(100)][-1]
+('any', 'full', 'twin')
+>>> [reader.sizes == [2 ** 102 - 1], reader.put('b'), reader.same, reader.put('f'), reader.undo(), reader.lots]
+[True, ('any',), [0, 1], ('any',), None, [('any', 'full', 'twin'), ('any',)]]
+""",
+    'Stage 17: nets': """
+>>> from likeboughs.nets import is_net, least_net, net_lots, net_of, net_sizes, same_nodes, tree_of
+>>> net_of(signs, ('f', ('f', b, a), ('f', b, a)))
+[('b',), ('a',), ('f', 0, 1), ('f', 2, 2)]
+>>> net = [('a',), ('a',), ('f', 0, 1), ('f', 2, 2), ('b',)]
+>>> [net_sizes(signs, net), same_nodes(signs, net), net_lots(book, net)[3], least_net(signs, net[:4])]
+[[1, 1, 3, 7, 1], [0, 0, 2, 3, 4], ('any', 'full', 'twin'), [('a',), ('f', 0, 0), ('f', 1, 1)]]
+>>> [tree_of(signs, net[:3]), is_net(signs, [('f', 0, 0)])]
+[('f', ('a',), ('a',)), False]
+""",
+    'Stage 18: drafts': """
+>>> from likeboughs.draft import Draft
+>>> draft = Draft(signs)
+>>> [draft.add(('any', 'a', (), ())), draft.want('any', a, True), draft.want('any', b, True), draft.failing()]
+[None, None, None, [1]]
+>>> [draft.helping(('any', 'b', (), ())), draft.add(('any', 'b', (), ())), draft.failing(), len(draft), draft.undo(steps=2), draft.wishes]
+[[1], None, [], 4, None, [('any', ('a',), True)]]
+""",
+    'Stage 19: texts': """
+>>> from likeboughs.texts import format_book, format_net, format_rule, format_tree, parse_book, parse_net, parse_rule, parse_tree
+>>> [format_tree(signs, four), parse_tree(signs, 'f(b,f(a,a))') == ('f', b, ('f', a, a))]
+['f(f(a,a),f(a,a))', True]
+>>> [format_rule(signs, book.rules[3]), parse_rule(signs, 'odd = f(leaf,leaf) 0!1')]
+['twin = f(any,any) 0=1', ('odd', 'f', ('leaf', 'leaf'), ((0, 1, False),))]
+>>> [format_book(thin).split('\\n'), parse_book(format_book(book)) == book, parse_net(signs, 'a f:0:0')]
+[['signs a:0 b:0 f:2', 'leaf = a', 'odd = f(leaf,leaf) 0!1'], True, [('a',), ('f', 0, 0)]]
+>>> parse_book('signs a:0\\nk = a\\nk = b')
+Traceback (most recent call last):
+likeboughs.errors.ParseError: line 2 cannot be read
+""",
+    'Stage 20: the shell': """
+>>> from likeboughs.shell import Shell
+>>> shell = Shell()
+>>> [shell.run(line) for line in ['book one signs_a:0_b:0_f:2/leaf_=_a/leaf_=_b/pair_=_f(leaf,leaf)_0!1', 'of one pair f(a,b)', 'counts one', 'end one pair']]
+['ok', 'yes', '-=4 leaf=2 pair=2', 'yes']
+>>> [shell.run(line) for line in ['made one pair', 'count one pair 3', 'asks one pair', 'needless one pair', 'lot one f(a,a)', 'names']]
+['3', '2', 'no', 'none', '-', 'one']
 """,
 }
 

@@ -2,6 +2,7 @@
 
 import ast
 import builtins
+import functools
 import os
 import unittest
 
@@ -34,6 +35,7 @@ BARRED_WORDS = (
 ).split()
 
 
+@functools.cache
 def sources():
     """The text and the tree of each file of the package by its name."""
     found = {}
