@@ -69,7 +69,7 @@ def are_too_many(book, kind, kin):
     field = Field(maker)
     parted_lots = [kin.maker.lot(lot) for lot in kin.parted]
     kinds = {rule[0]: True for rule in rules_beneath(book, kind)}
-    below = {lot: tuple([kind for kind in maker.lot(lot) if kind in kinds]) for lot in field.counts}
+    below = {lot: tuple([name for name in maker.lot(lot) if name in kinds]) for lot in field.counts}
     return number_parted(field, {lot: below[lot] in parted_lots for lot in below}) > MOST_TOLD_APART
 
 

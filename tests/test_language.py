@@ -140,6 +140,18 @@ class LanguageTest(unittest.TestCase):
                 plain = (ast.ImportFrom, ast.FunctionDef, ast.ClassDef, ast.Assign)
                 self.assertTrue(is_docstring or isinstance(node, plain), ast.dump(node)[:80])
 
+    def test_properties_share_no_name(self):
+        functions = [node for _, tree in sources().values() for node in ast.walk(tree) if isinstance(node, ast.FunctionDef)]
+        properties = [node.name for node in functions if node.decorator_list]
+        methods = [node.name for _, tree in sources().values() for made in ast.walk(tree) if isinstance(made, ast.ClassDef)
+                   for node in made.body if isinstance(node, ast.FunctionDef)]
+        stored = [node.attr for _, tree in sources().values() for node in ast.walk(tree)
+                  if isinstance(node, ast.Attribute) and not isinstance(node.ctx, ast.Load)]
+        self.assertGreater(len(properties), 0)
+        for name in properties:
+            self.assertEqual(methods.count(name), properties.count(name), name)
+            self.assertNotIn(name, stored)
+
     def test_decorators(self):
         for _, tree in sources().values():
             for node in ast.walk(tree):
