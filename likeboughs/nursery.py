@@ -22,6 +22,8 @@ class Nursery:
         self._waiting = []
         self._queue = []
         self._newest = None
+        # For each lot the least sizes of trees that are held or wait, as many as may be held.
+        self._sizes = {}
         for sign, row, pattern, lot in steps:
             for place in firsts_of(pattern):
                 self._above.setdefault(row[place], []).append((sign, row, pattern, place, lot))
@@ -57,15 +59,24 @@ class Nursery:
     def _is_full(self, lot):
         return len(self.held.get(lot, [])) >= self._most
 
+    def _is_needless(self, lot, places):
+        """Whether trees of a lot that have so many places would never be held, as there are enough smaller ones."""
+        sizes = self._sizes.get(lot, [])
+        return len(sizes) == self._most and places >= sizes[-1]
+
     def _wait(self, node, lot):
         places = 1 + sum([self._grove.places[number] for number in node[1:]])
-        heappush(self._queue, (places, len(self._waiting)))
-        self._waiting.append((node, lot))
+        if not self._is_needless(lot, places):
+            self._sizes[lot] = sorted(self._sizes.get(lot, []) + [places])[:self._most]
+            heappush(self._queue, (places, len(self._waiting)))
+            self._waiting.append((node, lot))
 
     def _wait_above(self, newest_lot, newest):
         """Let the trees wait in which the newest tree, of a lot, stands beneath the top."""
+        more = self._grove.places[newest] - 1
         for sign, row, pattern, place, lot in self._above.get(newest_lot, []):
-            if not self._is_full(lot):
+            # No brother has less than one place.
+            if not self._is_needless(lot, 1 + len(row) + more * pattern.count(place)):
                 for brothers in self._brothers(row, pattern, place, newest):
                     self._wait((sign, *brothers), lot)
 
