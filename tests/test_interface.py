@@ -4,6 +4,11 @@ import importlib
 import inspect
 import unittest
 
+from likeboughs.books import Book
+from likeboughs.draft import Draft
+from likeboughs.reader import Reader
+from likeboughs.shell import Shell
+
 FUNCTIONS = {
     'trees': 'is_signs(thing) is_tree(signs,thing) size(signs,tree) depth(signs,tree) parts(signs,tree) is_less(signs,one,other) '
              'trees_of_size(signs,size)',
@@ -83,6 +88,16 @@ class InterfaceTest(unittest.TestCase):
                     self.assertEqual(parameters(vars(made)[method], 1), names)
             for attribute in properties.split():
                 self.assertIsInstance(vars(made)[attribute], property)
+
+    def test_classes_with_parameters_by_name_in_another_order(self):
+        book = Book(rules=[('k', 'a', (), ()), ('l', 'a', (), ())], signs={'a': 0})
+        self.assertEqual([book.rules_of(kind='l'), book.renamed(names={'k': 'm'}).kinds], [[1], ['l', 'm']])
+        reader = Reader(book=book)
+        self.assertEqual([reader.put(sign='a'), reader.again(index=0)], [('k', 'l')] * 2)
+        draft = Draft(signs={'a': 0})
+        self.assertEqual([draft.want(is_so=True, kind='k', tree=('a',)), draft.helping(rule=book.rules[0]), draft.undo(steps=1)], [None, [0], None])
+        self.assertEqual([draft.add(rule=book.rules[0]), draft.remove(index=0), len(draft)], [None, None, 2])
+        self.assertEqual(Shell().run(line='names'), '-')
 
     def test_errors(self):
         module = importlib.import_module('likeboughs.errors')
